@@ -1,0 +1,1 @@
+"""Parkedrows: rows of wishes, and worlds that are one with them."""

@@ -1,0 +1,1 @@
+"""Tests of parkedrows; run them by python3 -m unittest."""
