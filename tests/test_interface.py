@@ -20,6 +20,20 @@ INTERFACE = {
                 "stack_of(tree)",
     "paths": "is_path(value) all_paths(cars) path_steps(path) path_by_steps(value) path_area(path) "
              "meeting_pairs(path) path_cells(path) bounce_spots(path) bounce(path)",
+    "sweeps": "sweep_order(path) swept(path) swept_back(path) sweeps_home(path)",
+    "labels": "is_labelled(value) labelled_of(row) row_of_labelled(labelled) counting_pairs(labelled) "
+              "second_count(labelled) reading_word(labelled) falling_cars(labelled) cars_changed(labelled,car) "
+              "labels_of(path) count_labels(path)",
+    "labelsweeps": "sweep_of(labelled) is_sweep(value) labelled_by_sweep(value) sweep_cells(value)",
+    "pathcounts": "joint_counts(cars) meeting_counts(cars) bounce_counts(cars) second_counts(path) "
+                  "difference_counts(cars)",
+    "loads": "is_load(value) is_settled(load) unsteady_corners(load) spilled(load,corner) settled(load) "
+             "spills_of(load)",
+    "burning": "comes_again(load) burning_rounds(load) turned_load(load) row_of_load(load) load_of_row(row) "
+               "load_level(load) stuck_corners(load) made_again(load) steps_again(load)",
+    "grains": "grain_added(load,corner) spills_by_grain(load,corner) grain_taken(load,corner) rain(load,corners)",
+    "loadgroup": "load_sum(one,other) load_opposite(load) load_times(load,times) load_order(load) "
+                 "neutral_load(cars) are_akin(one,other) akin_row(load) akin_load(load) akin_lots(loads)",
 }
 
 
