@@ -25,6 +25,11 @@ def all_within(items, least, most):
     return all([is_within(item, least, most) for item in items])
 
 
+def is_ascending(items):
+    """Whether each integer is greater than the one ahead of it."""
+    return all([items[at - 1] < items[at] for at in range(1, len(items))])
+
+
 def is_order(value, many):
     """Whether any value is a tuple of the integers from 0 to less than so many, each once."""
     if not has_size(value, many, many) or not all_within(value, 0, many - 1):
@@ -67,3 +72,27 @@ def power(base, times):
 def pairs_among(many):
     """How many pairs there are among so many things."""
     return many * (many - 1) // 2
+
+
+def ascending(values):
+    """The list of unlike integers, strings or tuples in ascending order."""
+    ordered = []
+    for value in values:
+        place = len([other for other in ordered if other < value])
+        ordered = ordered[:place] + [value] + ordered[place:]
+    return ordered
+
+
+def multiplied(one, other):
+    """The list of the numbers by which the product of two polynomials goes, each told by such a list."""
+    product = [0 for _ in range(len(one) + len(other) - 1)]
+    for at in range(len(one)):
+        for to in range(len(other)):
+            product[at + to] = product[at + to] + one[at] * other[to]
+    return product
+
+
+def added(one, other):
+    """The list of the numbers of two lists, added; the shorter one goes on with zeros."""
+    longer, shorter = (one, other) if len(one) > len(other) else (other, one)
+    return [longer[at] + shorter[at] for at in range(len(shorter))] + longer[len(shorter):]

@@ -34,6 +34,10 @@ NO_TUPLES = [None, True, False, 0, 1, 3, -1, HUGE, -HUGE, "", "0", "ur", "(0,)",
              [0] * 500, ((0,),) * 500, errors.InvalidRow("x"), errors.TooMany(3), (errors.TooMany(3),)]
 
 
+# For check_wrong: any value may stand there.
+NO_ERROR = (None, NO_TUPLES)
+
+
 def out_of(least, most):
     """All kinds of what is no integer from the least one to the most."""
     return NO_INTEGERS + [least - 1, most + 1, HUGE, -HUGE, least - 1000, most + 1000]
@@ -55,6 +59,7 @@ def check_wrong(test, cases):
     """For each (function, right arguments, [(error, wrong values)]) let each wrong value raise its error.
 
     An argument is wrong first by itself, then with all those behind it wrong as well: the first error counts.
+    Where the error is None, there is to be none.
     """
     for function, right, wrongs in cases:
         test.assertEqual(len(right), len(wrongs), function)
@@ -65,7 +70,7 @@ def check_wrong(test, cases):
                 for rest in (list(right[at + 1:]), behind):
                     args = list(right[:at]) + [value] + rest
                     found = raised(function, args)
-                    test.assertIs(error, found.__class__, (function, args))
+                    test.assertIs(type(None) if error is None else error, type(found), (function, args))
                     test.assertTrue(str(found), function)
 
 
@@ -225,3 +230,197 @@ def tally(numbers):
     for number in numbers:
         found[number] = found.get(number, 0) + 1
     return found
+
+
+def ties_of(web, corner):
+    """The list of all that are tied with a corner, or with the root."""
+    return [other for other in range(web[0] + 1) if (other, corner) in web[1] or (corner, other) in web[1]]
+
+
+def webs_tried(corners):
+    """The list of all webs: of all lots of ties those that lead from the root to each corner."""
+    ties = list(itertools.combinations(range(corners + 1), 2))
+    webs = [(corners, lot) for many in range(len(ties) + 1) for lot in itertools.combinations(ties, many)]
+    found = []
+    for web in webs:
+        met, line = {0}, [0]
+        for here in line:
+            line += [other for other in ties_of(web, here) if other not in met]
+            met.update(line)
+        if len(met) == corners + 1:
+            found.append(web)
+    return found
+
+
+def few_webs():
+    """All webs of one to three corners, and some of four."""
+    return [web for corners in (1, 2, 3) for web in webs_tried(corners)] + webs_tried(4)[::20]
+
+
+def web_spill_by_spill(web, load, choose):
+    """What is left on a web, and how often each corner has spilled; the corner to spill is chosen each time."""
+    grains, spills = list(load), [0] * web[0]
+    near = [ties_of(web, corner) for corner in range(1, web[0] + 1)]
+    high = [at for at in range(web[0]) if grains[at] >= len(near[at])]
+    while high:
+        at = choose(high)
+        spills[at] += 1
+        for other in near[at]:
+            grains[at] -= 1
+            if other:
+                grains[other - 1] += 1
+        high = [at for at in range(web[0]) if grains[at] >= len(near[at])]
+    return tuple(grains), tuple(spills)
+
+
+def web_loads_settled(web):
+    """The ascending list of all loads that are settled on a web."""
+    return list(itertools.product(*[range(len(ties_of(web, corner))) for corner in range(1, web[0] + 1)]))
+
+
+def web_loads_again(web):
+    """The ascending list of all settled loads by which all corners burn."""
+    near = {corner: set(ties_of(web, corner)) for corner in range(1, web[0] + 1)}
+    found = []
+    for load in web_loads_settled(web):
+        burnt, more = {0}, {0}
+        while more:
+            more = {corner for corner in near if corner not in burnt and load[corner - 1] >= len(near[corner] - burnt)}
+            burnt |= more
+        if len(burnt) == web[0] + 1:
+            found.append(load)
+    return found
+
+
+def web_trees_walked(web):
+    """The ascending list of all tuples of parents on a web that lead to the root from everywhere."""
+    return [tree for tree in trees_walked(web[0])
+            if all(tree[corner - 1] in ties_of(web, corner) for corner in range(1, web[0] + 1))]
+
+
+def fields_tried(things):
+    """The ascending list of all fields: of all orders and all lots of arcs those none of which lies in another."""
+    found = []
+    pairs = list(itertools.combinations(range(things), 2))
+    for order in itertools.permutations(range(things)):
+        arcs = [(first, last) for first, last in pairs if order[first] < order[last]]
+        for many in range(len(arcs) + 1):
+            for lot in itertools.combinations(arcs, many):
+                if all(one[0] < other[0] and one[1] < other[1] for one, other in itertools.combinations(lot, 2)):
+                    found.append((order, lot))
+    return sorted(found)
+
+
+def few_fields():
+    """All fields of one to four things."""
+    return [field for things in (1, 2, 3, 4) for field in fields_tried(things)]
+
+
+def is_far(field, one, other):
+    """Whether the lesser thing is ahead of the greater one, and their places lie within no arc."""
+    order, arcs = field
+    place, behind = order.index(one), order.index(other)
+    return place < behind and not any(first <= place and behind <= last for first, last in arcs)
+
+
+def planes_above(field):
+    """The ascending list of all planes that a field is above."""
+    order, found = field[0], []
+    for one, other in itertools.combinations(range(len(order)), 2):
+        if order.index(one) < order.index(other):
+            found.append((one, other, 0))
+            if is_far(field, one, other):
+                found.append((one, other, 1))
+    return found
+
+
+def lots_tried(points):
+    """The ascending list of all partings: of all lots those no two of which cross."""
+    marks = [()]
+    for _ in range(points):
+        marks = [some + (mark,) for some in marks for mark in range(len(set(some)) + 1)]
+    found = []
+    for some in marks:
+        cross = [True for a, b, c, d in itertools.combinations(some, 4) if a == c != b == d]
+        if not cross:
+            found.append(tuple(tuple(point for point in range(points) if some[point] == mark)
+                               for mark in range(len(set(some)))))
+    return sorted(found)
+
+
+def turn_of(lots):
+    """The tuple of the next greater point in its lot, for each point, or of the least one."""
+    follow = {point: lot[(at + 1) % len(lot)] for lot in lots for at, point in enumerate(lot)}
+    return tuple(follow[point] for point in sorted(follow))
+
+
+def is_fine(lots, others):
+    """Whether each lot is within a lot of the others."""
+    return all(any(set(lot) <= set(other) for other in others) for lot in lots)
+
+
+def chains_tried(points):
+    """The list of all chains of partings of so many points."""
+    partings = lots_tried(points)
+    chains = [(tuple((point,) for point in range(points)),)]
+    for many in range(points - 1, 0, -1):
+        chains = [chain + (lots,) for chain in chains for lots in partings
+                  if len(lots) == many and is_fine(chain[-1], lots)]
+    return chains
+
+
+def exchanges_done(exchanges):
+    """The list of the tuples on the way, as the exchanges are done one after another."""
+    items = list(range(len(exchanges) + 1))
+    way = [tuple(items)]
+    for a, b in exchanges:
+        items[a], items[b] = items[b], items[a]
+        way.append(tuple(items))
+    return way
+
+
+def exchanges_tried(cars):
+    """The ascending list of all rows of exchanges: of all tuples of pairs those that lead to the long turn."""
+    pairs = list(itertools.combinations(range(cars + 1), 2))
+    long_turn = tuple(range(1, cars + 1)) + (0,)
+    return [exchanges for exchanges in itertools.product(pairs, repeat=cars)
+            if exchanges_done(exchanges)[-1] == long_turn]
+
+
+def homes_tried(places, things):
+    """The ascending list of all homes of so many things, all there."""
+    return list(itertools.product(range(places), repeat=things))
+
+
+def some_homes():
+    """Pairs of few places and of homes for so many, some things not being there."""
+    found = []
+    for places in (1, 2, 3, 4, 5):
+        for things in range(5):
+            items = [None] + list(range(places))
+            found += [(places, homes) for homes in itertools.product(items, repeat=things)
+                      if things - homes.count(None) < places]
+    return found[::3] + [(6, (2, 2, 0, 3)), (6, (5, 5, None, 5)), (7, (6, None, 6, 0, 6, 3)),
+                         (12, (11, 3, None, 10, 3))]
+
+
+def lay_by_turn(places, homes, turn):
+    """The tuple of what lies in all places, and the dict of the steps of all things, laid one after another."""
+    table, steps = [None] * places, {}
+    for thing in turn:
+        steps[thing] = 0
+        while table[(homes[thing] + steps[thing]) % places] is not None:
+            steps[thing] += 1
+        table[(homes[thing] + steps[thing]) % places] = thing
+    return tuple(table), steps
+
+
+def present(homes):
+    """The tuple of all things that are there."""
+    return tuple(thing for thing, home in enumerate(homes) if home is not None)
+
+
+def tables_by_turns(places, homes):
+    """The ascending list of the tables that come of homes in all turns."""
+    tables = {lay_by_turn(places, homes, turn)[0] for turn in itertools.permutations(present(homes))}
+    return sorted(tables, key=lambda table: [-1 if item is None else item for item in table])
