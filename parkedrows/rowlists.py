@@ -2,7 +2,7 @@
 
 from math import comb
 
-from parkedrows.checks import check_cars, check_most, check_number, is_integer, is_within, power
+from parkedrows.checks import added, check_cars, check_most, check_number, is_integer, is_within, multiplied, power
 from parkedrows.errors import InvalidCars, InvalidNumber
 from parkedrows.rows import check_row, is_parked
 
@@ -85,6 +85,20 @@ def check_many_cars(cars):
 def many_parked(cars):
     """How many parked rows of so many cars there are; one for no car."""
     return power(cars + 1, cars - 1)
+
+
+def moves_of_parked(most):
+    """For 0 cars, 1 and so on, the list of how many parked rows have the displacement 0, 1 and so on."""
+    spreads = [[1]]
+    for cars in range(1, most + 1):
+        spread = []
+        for ahead in range(cars):
+            # The last car parks behind so many others, at most as many spots behind its wish.
+            others = multiplied(spreads[ahead], spreads[cars - 1 - ahead])
+            chosen = [comb(cars - 1, ahead) for _ in range(ahead + 1)]
+            spread = added(spread, multiplied(others, chosen))
+        spreads.append(spread)
+    return spreads
 
 
 def count_parked(cars):

@@ -1,24 +1,43 @@
 """Tests of what the document promises between the worlds: [3]."""
 
 import itertools
+import math
 import unittest
 
 from parkedrows.burning import load_level, load_of_row, row_of_load
-from parkedrows.circles import is_ring_row, ring_turned
+from parkedrows.chaincounts import count_begun, count_layers, count_partings
+from parkedrows.chains import are_exchanges, chain_of, exchanges_of, row_of_chain, row_of_exchanges
+from parkedrows.circles import is_ring_row, ring_free, ring_spots, ring_turned
+from parkedrows.exchangemoves import (exchanges_mirrored, exchanges_round, exchanges_turned, moved_ahead, moved_behind,
+                                      moves_to)
 from parkedrows.grains import grain_added
 from parkedrows.labels import cars_changed, labelled_of, row_of_labelled, second_count
 from parkedrows.labelsweeps import labelled_by_sweep, sweep_cells, sweep_of
 from parkedrows.loadgroup import akin_load, akin_row, are_akin, load_order, load_sum
 from parkedrows.loads import settled, spills_of
+from parkedrows.lots import homes_of_rows, lot_rows
+from parkedrows.partings import complement, is_finer, parting_turned, partings
 from parkedrows.pathcounts import bounce_counts, difference_counts, joint_counts, meeting_counts
 from parkedrows.paths import bounce, meeting_pairs, path_area
+from parkedrows.planefields import (all_fields, count_closed_fields, count_fields, count_off_planes, field_of,
+                                    is_closed_field, point_in)
+from parkedrows.planelabels import field_by_label, field_label
+from parkedrows.planewalls import field_distance, floors_of, plane_crossed, plane_way, planes_between
 from parkedrows.rowlists import parked_rows
 from parkedrows.rows import displacement, is_parked, is_prime
+from parkedrows.soundtables import count_sound, even_table, is_sound, sound_tables, squares_of
 from parkedrows.sweeps import swept
+from parkedrows.tablecounts import count_homes, homes_by_cost, homes_by_lots, homes_for
+from parkedrows.tablefills import cost_of, filled_places, steps_of, table_of
+from parkedrows.tableshifts import closed_up, homes_with, homes_without, put_in
 from parkedrows.trees import code_of, is_tree
 from parkedrows.treerows import tree_by_queue, tree_by_stack
-from tests.helper import (drive, few_paths, few_rows, loads_again, ring_rows, rows_driven,
-                          spill_by_spill, tally)
+from parkedrows.webcounts import excess_spread
+from parkedrows.webloads import count_web_loads, full_web, web_loads
+from parkedrows.webtrees import group_sizes, load_of_tree, tree_of_load, web_trees
+from tests.helper import (chains_tried, drive, exchanges_done, exchanges_tried, few_paths, few_rows, few_webs,
+                          homes_tried, loads_again, present, ring_rows, rows_driven, some_homes, spill_by_spill,
+                          tables_by_turns, tally)
 
 
 class TestRowsAndTrees(unittest.TestCase):
@@ -161,3 +180,186 @@ class TestLoads(unittest.TestCase):
         for row in few_rows():
             self.assertIsNotNone(drive(akin_row(row)))
             self.assertEqual(row, akin_row(row))
+
+
+class TestWebs(unittest.TestCase):
+    def test_as_many_loads_as_trees(self):
+        for web in few_webs() + [full_web(5)]:
+            loads, trees = web_loads(web), web_trees(web)
+            self.assertEqual([len(loads)] * 3, [len(trees), count_web_loads(web), math.prod(group_sizes(web))])
+            self.assertEqual(trees, sorted(tree_of_load(web, load) for load in loads))
+            self.assertEqual(loads, sorted(load_of_tree(web, tree) for tree in trees))
+
+    def test_full_webs_by_the_queue(self):
+        for corners in (1, 2, 3, 4, 5):
+            for row in parked_rows(corners):
+                self.assertEqual(tree_by_queue(row), tree_of_load(full_web(corners), load_of_row(row)))
+
+
+class TestFields(unittest.TestCase):
+    def test_how_many(self):
+        for things in (1, 2, 3, 4):
+            fields = all_fields(things)
+            closed = [field for field in fields if is_closed_field(field)]
+            self.assertEqual([(things + 1) ** (things - 1), (things - 1) ** (things - 1)], [len(fields), len(closed)])
+            self.assertEqual([len(fields), len(closed)], [count_fields(things), count_closed_fields(things)])
+            for field in fields:
+                self.assertEqual(field, field_of(point_in(field)))
+
+    def test_labels(self):
+        for things in (1, 2, 3, 4):
+            fields = all_fields(things)
+            middle = field_by_label((0,) * things)
+            self.assertEqual(rows_driven(things), sorted(field_label(field) for field in fields))
+            for field in fields:
+                self.assertEqual(sum(field_label(field)), field_distance(middle, field))
+                self.assertIs(field == middle, floors_of(field) == [])
+
+    def test_ways(self):
+        for things in (1, 2, 3):
+            for field, other in itertools.product(all_fields(things), repeat=2):
+                way = plane_way(field, other)
+                self.assertEqual(planes_between(field, other), sorted(way))
+                for plane in way:
+                    field = plane_crossed(field, plane)
+                self.assertEqual(other, field)
+
+    def test_remainders(self):
+        for things in range(1, 13):
+            for number in (1, things - 1, things, things + 1, 2 * things, 10 ** 30):
+                if number >= 1:
+                    many = number * (number - things) ** (things - 1) if number >= things else 0
+                    self.assertEqual(many, count_off_planes(things, number))
+
+
+class TestChains(unittest.TestCase):
+    def test_rows_chains_and_exchanges(self):
+        for cars in (1, 2, 3, 4):
+            rows = rows_driven(cars)
+            self.assertEqual(rows, sorted(row_of_chain(chain) for chain in chains_tried(cars + 1)))
+            self.assertEqual(rows, sorted(row_of_exchanges(exchanges) for exchanges in exchanges_tried(cars)))
+            for row in rows:
+                self.assertEqual(row, tuple(a for a, _ in exchanges_of(row)))
+                self.assertEqual(len(chain_of(row)), len(exchanges_done(exchanges_of(row))))
+
+    def test_what_stays_a_row_of_exchanges(self):
+        for cars in (1, 2, 3, 4):
+            for exchanges in exchanges_tried(cars):
+                self.assertTrue(are_exchanges(exchanges_turned(exchanges, 1)))
+                self.assertTrue(are_exchanges(exchanges_mirrored(exchanges)))
+                self.assertTrue(are_exchanges(exchanges_round(exchanges)))
+                for index in range(cars - 1):
+                    ahead, behind = moved_ahead(exchanges, index), moved_behind(exchanges, index)
+                    self.assertTrue(are_exchanges(ahead) and are_exchanges(behind))
+                    self.assertEqual([exchanges] * 2, [moved_behind(ahead, index), moved_ahead(behind, index)])
+
+    def test_moves_lead_everywhere(self):
+        rows = exchanges_tried(4)
+        for exchanges, other in zip(rows, rows[40:] + rows[:40]):
+            here = exchanges
+            for word, index in moves_to(exchanges, other):
+                here = moved_ahead(here, index) if word == "ahead" else moved_behind(here, index)
+            self.assertEqual(other, here)
+
+    def test_complements(self):
+        for points in (2, 3, 4, 5, 6, 7):
+            every = partings(points)
+            for one in every:
+                self.assertEqual(parting_turned(one, -1), complement(complement(one)))
+            for one, other in itertools.product(every[::1 if points < 6 else 9], every[::1 if points < 6 else 4]):
+                self.assertIs(is_finer(one, other), is_finer(complement(other), complement(one)))
+
+    def test_counts(self):
+        for points in range(2, 14):
+            lots = [count_partings(points, many) for many in range(points + 1)]
+            self.assertEqual([math.comb(points, many) * math.comb(points, many - 1) // points
+                              for many in range(1, points + 1)], lots[1:])
+            for many in range(1, 21):
+                self.assertEqual(math.comb(points * (many + 1), points - 1), points * count_layers(points, many))
+            self.assertEqual(sum(lots), count_layers(points, 1))
+
+    def test_beginnings_depend_on_the_difference(self):
+        for cars in range(1, 13):
+            for a, b in itertools.combinations(range(cars + 1), 2):
+                self.assertEqual(count_begun(cars, (0, b - a)), count_begun(cars, (a, b)))
+
+
+class TestTables(unittest.TestCase):
+    def test_the_same_places_at_the_same_cost(self):
+        for places, homes in some_homes():
+            for table in sound_tables(places, homes):
+                steps = [(table.index(thing) - homes[thing]) % places for thing in present(homes)]
+                self.assertEqual(cost_of(places, homes), sum(steps))
+                self.assertEqual(filled_places(places, homes),
+                                 [place for place in range(places) if table[place] is not None])
+            self.assertEqual(len(tables_by_turns(places, homes)), count_sound(places, homes))
+
+    def test_lots_tell_the_homes(self):
+        for places, homes in some_homes():
+            triples = lot_rows(places, homes)
+            self.assertEqual(homes, homes_of_rows(places, len(homes), tuple(triples)))
+            self.assertEqual(cost_of(places, homes), sum(displacement(row) for _, _, row in triples))
+
+    def test_any_lots_with_free_places_between(self):
+        for first, other in itertools.product(rows_driven(2), rows_driven(3)):
+            for things in itertools.combinations(range(5), 2):
+                rest = tuple(thing for thing in range(5) if thing not in things)
+                lots = ((3, things, first), (6, rest, other))
+                self.assertEqual(list(lots), lot_rows(9, homes_of_rows(9, 5, lots)))
+
+    def test_homes_of_tables_by_a_product(self):
+        for places, many in ((1, 0), (2, 1), (3, 2), (4, 3), (5, 3), (5, 4)):
+            tables = tally(table_of(places, homes) for homes in homes_tried(places, many))
+            for table in tables:
+                product = 1
+                for thing in range(many):
+                    place, ahead = table.index(thing), 1
+                    while table[place - ahead] is not None and table[place - ahead] < thing:
+                        ahead += 1
+                    product *= ahead
+                self.assertEqual([tables[table]] * 3, [product, count_homes(table), len(homes_for(table))])
+
+    def test_even_tables(self):
+        for places, homes in some_homes():
+            tables = sound_tables(places, homes)
+            self.assertEqual(min(squares_of(places, homes, table) for table in tables),
+                             squares_of(places, homes, even_table(places, homes)))
+
+    def test_taken_out_and_put_in(self):
+        for places, homes in some_homes()[::2]:
+            for table in sound_tables(places, homes):
+                for thing in range(len(homes)):
+                    if homes[thing] is not None:
+                        without = homes_without(places, homes, thing)
+                        self.assertTrue(is_sound(places, without, closed_up(places, homes, table, thing)))
+                    elif len(present(homes)) < places - 1:
+                        for home in range(places):
+                            more = put_in(places, homes, table, thing, home)
+                            changed = homes_with(places, homes, thing, home)
+                            self.assertTrue(is_sound(places, changed, more))
+                            self.assertEqual(table, closed_up(places, changed, more, thing))
+
+    def test_ring_rows_are_homes(self):
+        for cars in (1, 2, 3, 4):
+            for row in ring_rows(cars):
+                self.assertEqual(tuple((spot - wish) % (cars + 1) for wish, spot in zip(row, ring_spots(row))),
+                                 steps_of(cars + 1, row))
+                self.assertEqual(ring_free(row), table_of(cars + 1, row).index(None))
+            # Just the parked rows leave the last place free.
+            self.assertEqual(rows_driven(cars), [row for row in ring_rows(cars)
+                                                 if table_of(cars + 1, row)[cars] is None])
+
+    def test_sums_of_counts(self):
+        for places in range(1, 13):
+            for many in range(places):
+                self.assertEqual([places ** many] * 2, [sum(homes_by_cost(places, many)),
+                                                        sum(homes_by_lots(places, many))])
+
+
+class TestMeshes(unittest.TestCase):
+    def test_excess_by_displacement(self):
+        for corners in (1, 2, 3, 4, 5):
+            spread = excess_spread(corners)
+            for number in (-3, -2, -1, 0, 1, 2, 5):
+                self.assertEqual(sum((number + 1) ** displacement(row) for row in rows_driven(corners)),
+                                 sum(many * number ** excess for excess, many in enumerate(spread)))

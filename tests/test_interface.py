@@ -34,6 +34,37 @@ INTERFACE = {
     "grains": "grain_added(load,corner) spills_by_grain(load,corner) grain_taken(load,corner) rain(load,corners)",
     "loadgroup": "load_sum(one,other) load_opposite(load) load_times(load,times) load_order(load) "
                  "neutral_load(cars) are_akin(one,other) akin_row(load) akin_load(load) akin_lots(loads)",
+    "webloads": "is_web(value) full_web(corners) web_settled(web,load) web_spills(web,load) "
+                "web_comes_again(web,load) web_loads(web) count_web_loads(web)",
+    "webtrees": "is_web_tree(web,value) tree_of_load(web,load) load_of_tree(web,tree) web_trees(web) group_sizes(web)",
+    "planefields": "is_field(value) middle_field(things) field_of(point) point_in(field) near_things(field) "
+                   "far_things(field) is_closed_field(field) all_fields(things) count_fields(many) "
+                   "count_closed_fields(many) count_off_planes(things,number)",
+    "planewalls": "planes_between(field,other_field) field_distance(field,other_field) walls_of(field) "
+                  "floors_of(field) ceilings_of(field) plane_crossed(field,plane) plane_way(field,other_field)",
+    "planelabels": "field_label(field) field_by_label(row) label_item(plane)",
+    "partings": "is_parting(value) parting_turn(parting) parting_by_turn(value) parting_turned(parting,steps) "
+                "complement(parting) is_finer(parting,other) parting_meet(parting,other) parting_join(parting,other) "
+                "joinings(parting) splittings(parting) partings(points)",
+    "chains": "is_chain(value) chain_of(row) row_of_chain(value) are_exchanges(value) exchanges_of(row) "
+              "row_of_exchanges(value)",
+    "exchangemoves": "moved_ahead(exchanges,index) moved_behind(exchanges,index) exchanges_turned(exchanges,steps) "
+                     "exchanges_mirrored(exchanges) exchanges_round(exchanges) moves_to(exchanges,other)",
+    "chaincounts": "count_partings(points,lots) count_layers(points,many) count_through(parting) "
+                   "count_begun(cars,exchange) count_with(cars,exchange)",
+    "tablefills": "are_homes(places,value) is_table(value) table_of(places,homes) steps_of(places,homes) "
+                  "cost_of(places,homes) filled_places(places,homes) place_for(places,homes,home)",
+    "tablecounts": "homes_for(table) home_ranges(table) count_homes(table) count_filling(places,value) "
+                   "homes_by_cost(places,many) homes_by_lots(places,many) total_cost(places,many) "
+                   "total_miss(places,many)",
+    "lots": "lots_of(places,homes) lot_rows(places,homes) homes_of_rows(places,things,value)",
+    "soundtables": "is_sound(places,homes,value) sound_tables(places,homes) count_sound(places,homes) "
+                   "even_table(places,homes) squares_of(places,homes,table) turn_for(places,homes,table) "
+                   "is_turn_for(places,homes,table,value)",
+    "tableshifts": "homes_without(places,homes,thing) freed_place(places,homes,thing) "
+                   "closed_up(places,homes,table,thing) homes_with(places,homes,thing,home) "
+                   "put_in(places,homes,table,thing,home)",
+    "webcounts": "excess_spread(corners) count_connected(corners,ties)",
 }
 
 
