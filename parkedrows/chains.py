@@ -32,8 +32,8 @@ def chain_of(row):
     parting = (tuple(range(len(row) + 1)),)
     chain = (parting,)
     for car in reversed(range(len(row))):
-        lot = [lot for lot in parting if row[car] in lot][0]
-        parting = split_off(parting, latter_lot(lot, row[car], row[:car]))
+        joint = [lot for lot in parting if row[car] in lot][0]
+        parting = split_off(parting, latter_lot(joint, row[car], row[:car]))
         chain = (parting,) + chain
     return chain
 

@@ -3,7 +3,7 @@
 from parkedrows.checks import all_within, check_number, has_size, is_ascending, is_within
 from parkedrows.errors import InvalidLots
 from parkedrows.rows import is_parked
-from parkedrows.tablefills import MOST_PLACES, MOST_THINGS, are_homes_in, check_homes, check_places, table_of
+from parkedrows.tablefills import MOST_PLACES, MOST_THINGS, are_homes_in, check_places, table_of
 
 
 def lots_of(places, homes):
@@ -19,7 +19,7 @@ def things_on(table, place, size):
     return [table[(place + at) % len(table)] for at in range(size)]
 
 
-def rows_of_lots(places, homes):
+def lot_rows(places, homes):
     """The ascending list of the triples of the first place, the things and the row of each lot of homes."""
     table = table_of(places, homes)
     triples = []
@@ -27,12 +27,6 @@ def rows_of_lots(places, homes):
         things = sorted([int(thing) for thing in things_on(table, place, size)])
         triples.append((place, tuple(things), tuple([(homes[thing] - place) % places for thing in things])))
     return triples
-
-
-def lot_rows(places, homes):
-    """The ascending list of the triples of the first place, the things and the row of each lot of homes."""
-    check_homes(places, homes)
-    return rows_of_lots(places, homes)
 
 
 def is_lot_row(value, places, things):
@@ -56,6 +50,6 @@ def homes_of_rows(places, things, value):
         for thing, wish in zip(own, row):
             homes[thing] = (place + wish) % places
     # Lots that lie too close to one another, or have a thing twice, are not those of the homes that they make.
-    if not are_homes_in(places, tuple(homes)) or tuple(rows_of_lots(places, tuple(homes))) != value:
+    if not are_homes_in(places, tuple(homes)) or tuple(lot_rows(places, tuple(homes))) != value:
         raise InvalidLots("the lots must be the lots of some homes")
     return tuple(homes)

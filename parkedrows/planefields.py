@@ -65,7 +65,7 @@ def sides_of(field):
     for one, other in pairs_of_things(len(order)):
         place, behind = order.index(one), order.index(other)
         sides[(one, other, 0)] = place < behind
-        sides[(one, other, 1)] = place < behind and lasts[place] < behind
+        sides[(one, other, 1)] = lasts[place] < behind
     return sides
 
 
@@ -117,7 +117,8 @@ def field_of(point):
     gaps = {(one, other): numbers[one] - numbers[other] for one, other in pairs_of_things(len(numbers))}
     if any([gap in (0, unit) for gap in gaps.values()]):
         raise InvalidPoint("the point must be on no plane")
-    order = tuple([numbers.index(number) for number in sorted([int(number) for number in numbers], reverse=True)])
+    falling = sorted([int(number) for number in numbers], reverse=True)
+    order = tuple([numbers.index(number) for number in falling])
     near = {pair: True for pair in gaps if 0 < gaps[pair] < unit}
     return (order, arcs_over(order, near))
 

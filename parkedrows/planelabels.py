@@ -38,11 +38,12 @@ def field_by_label(row):
         # Those from the place first on are near to a lesser or greater thing that comes next.
         window = order[first:]
         ready = [thing for thing in range(len(row)) if thing not in order
-                 and first + len([ahead for ahead in window if ahead > thing]) == row[thing]]
+                 and first + len([other for other in window if other > thing]) == row[thing]]
         if len(ready) > 0:
             # The least one: each other one that comes now would make its number too great.
-            for ahead in [ahead for ahead in window if ahead < ready[0]]:
-                near[(ahead, ready[0])] = True
+            for ahead in window:
+                if ahead < ready[0]:
+                    near[(ahead, ready[0])] = True
             order = order + (ready[0],)
         else:
             first = first + 1

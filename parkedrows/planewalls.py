@@ -1,6 +1,6 @@
 """Planes between fields: walls, crossings, distances and ways."""
 
-from parkedrows.checks import has_size, is_within
+from parkedrows.checks import all_within, has_size, is_within
 from parkedrows.errors import InvalidPlane, Unlike
 from parkedrows.planefields import arcs_over, check_field, middle_field, near_by_sides, sides_of
 
@@ -9,8 +9,7 @@ def is_plane(value, things):
     """Whether any value is a plane of so many things."""
     if not has_size(value, 3, 3) or not is_within(value[2], 0, 1):
         return False
-    one, other, _ = value
-    return is_within(one, 0, things - 1) and is_within(other, 0, things - 1) and one < other
+    return all_within(value[:2], 0, things - 1) and value[0] < value[1]
 
 
 def check_two_fields(field, other_field):

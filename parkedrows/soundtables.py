@@ -2,7 +2,7 @@
 
 from parkedrows.checks import check_most, has_size, is_within
 from parkedrows.errors import InvalidTable
-from parkedrows.lots import rows_of_lots, things_on
+from parkedrows.lots import lot_rows, things_on
 from parkedrows.tablefills import check_homes, laid, steps_in, things_there
 
 MOST_LISTED = 6
@@ -43,7 +43,7 @@ def is_sound(places, homes, value):
 def things_for_places(places, homes):
     """For each place, the list of all things that lie there in some sound table."""
     fits = [[] for _ in range(places)]
-    for first, things, row in rows_of_lots(places, homes):
+    for first, things, row in lot_rows(places, homes):
         for spot in range(len(row)):
             fits[(first + spot) % places] = [thing for thing, wish in zip(things, row) if wish <= spot]
     return fits
@@ -64,9 +64,8 @@ def sound_tables(places, homes):
 
 def count_sound(places, homes):
     """How many sound tables of homes there are."""
-    check_homes(places, homes)
     many = 1
-    for _, _, row in rows_of_lots(places, homes):
+    for _, _, row in lot_rows(places, homes):
         for spot in range(len(row)):
             # What can lie in a spot can lie in all those behind it, too.
             many = many * (len([wish for wish in row if wish <= spot]) - spot)
@@ -75,9 +74,9 @@ def count_sound(places, homes):
 
 def even_table(places, homes):
     """The even table of homes."""
-    check_homes(places, homes)
+    rows = lot_rows(places, homes)
     table = [None for _ in range(places)]
-    for first, things, row in rows_of_lots(places, homes):
+    for first, things, row in rows:
         line = [thing for spot in range(len(row)) for thing, wish in zip(things, row) if wish == spot]
         for spot in range(len(line)):
             table[(first + spot) % places] = line[spot]
@@ -93,7 +92,7 @@ def squares_of(places, homes, table):
 def turn_for(places, homes, table):
     """A tuple of all things that are there, in the turn of which a sound table comes."""
     check_sound(places, homes, table)
-    return tuple([thing for first, things, _ in rows_of_lots(places, homes)
+    return tuple([thing for first, things, _ in lot_rows(places, homes)
                   for thing in things_on(table, first, len(things))])
 
 

@@ -37,7 +37,7 @@ def homes_for(table):
     check_most(len(table) - table.count(None), MOST_LISTED)
     found = [()]
     for first, many in ranges_in(table):
-        own = sorted([(first + at) % len(table) for at in range(many)])
+        own = sorted([int((first + at) % len(table)) for at in range(many)])
         found = [homes + (home,) for homes in found for home in own]
     return found
 
@@ -97,20 +97,19 @@ def homes_by_cost(places, many):
     check_number(many, 0, places - 1)
     spreads = moves_of_parked(many)
     # For 0 things, 1 and so on, how many ways of each cost lead to lots, perhaps empty, each ahead of a free place.
-    laid = [[1]] + [[] for _ in range(many)]
+    laid = [[1]] + [[0] for _ in range(many)]
     for _ in range(places - many):
         laid = [laid_ahead(laid[:things + 1], spreads) for things in range(many + 1)]
     return tuple([around(places, many, ways) for ways in laid[many]])
 
 
 def laid_ahead(laid, spreads):
-    """As many ways as there are when one lot more, perhaps an empty one, comes to those that are laid."""
+    """The list of how many ways of each cost there are when one lot more, perhaps an empty one, is laid ahead."""
     things = len(laid) - 1
-    grown = [0 for _ in range(pairs_among(things) + 1)]
+    grown = []
     for size in range(things + 1):
-        if len(laid[things - size]) > 0:
-            chosen = [comb(things, size) * ways for ways in spreads[size]]
-            grown = added(grown, multiplied(chosen, laid[things - size]))
+        chosen = [comb(things, size) * ways for ways in spreads[size]]
+        grown = added(grown, multiplied(chosen, laid[things - size]))
     return grown
 
 

@@ -15,7 +15,7 @@ EXAMPLES = """
 """
 
 # What is no exchange of three cars, which have the points 0 to 3.
-NO_EXCHANGE = NO_TUPLES + [(), (0,), (0, 1, 2), (1, 0), (3, 0), (0, 0), (2, 2), (0, 4), (3, 4), (-1, 1), (0, True),
+NO_EXCHANGE = NO_TUPLES + [(), (0,), (0, 1, 2), (1, 0), (3, 0), (0, 0), (2, 2), (0, 4), (3, 4), (-1, 1), (-1, 0), (0, True),
                            (False, 1), (True, 2), (0, None), (0, "1"), (0, (1,)), [0, 1], ((0, 1),), (0, HUGE),
                            nested(tuple, (0, 1)), (0, 12), (4, 5)]
 

@@ -111,3 +111,7 @@ class TestTableShifts(unittest.TestCase):
         for value in NO_INTEGERS:
             self.assertIs(InvalidThing, raised(homes_without, [1, (None,), value]).__class__)
             self.assertIs(InvalidThing, raised(homes_with, [2, (), value, 0]).__class__)
+        # An index below 0 is none, whatever stands at the end.
+        for index in (-1, -2):
+            self.assertIs(InvalidThing, raised(homes_with, [6, (None, None), index, 0]).__class__)
+            self.assertIs(InvalidThing, raised(homes_without, [6, (1, 1), index]).__class__)

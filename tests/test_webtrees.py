@@ -68,6 +68,9 @@ def orders_by_sizes(sizes):
 # Two rings of four that have the root in common.
 LOOPS = (6, ((0, 1), (0, 3), (0, 4), (0, 6), (1, 2), (2, 3), (4, 5), (5, 6)))
 
+# The root and a corner, each tied with all of three others.
+HALVES = (4, ((0, 2), (0, 3), (0, 4), (1, 2), (1, 3), (1, 4)))
+
 
 class TestWebTrees(unittest.TestCase):
     def test_examples(self):
@@ -105,8 +108,9 @@ class TestWebTrees(unittest.TestCase):
             self.assertEqual(orders_on(web), orders_by_sizes(sizes), web)
 
     def test_sizes_of_greater_webs(self):
-        self.assertEqual([(), (), (7,), (6,) * 4, (7,) * 5, (4, 4)],
-                         [group_sizes(web) for web in (ONE, CHAIN, LOOP, full_web(5), full_web(6), LOOPS)])
+        self.assertEqual([(), (), (7,), (6,) * 4, (7,) * 5, (4, 4), (2, 6)],
+                         [group_sizes(web) for web in (ONE, CHAIN, LOOP, full_web(5), full_web(6), LOOPS, HALVES)])
+        self.assertEqual(orders_on(HALVES), orders_by_sizes((2, 6)))
         self.assertEqual(math.prod(group_sizes(WHEEL)), len(web_loads_again(WHEEL)))
 
     def test_six_corners(self):
