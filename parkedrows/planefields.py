@@ -90,7 +90,8 @@ def arcs_over(order, near):
 def middle_field(things):
     """The field of so many things in which all are near."""
     check_cars(things)
-    return (tuple(range(things)), ((0, things - 1),) if things > 1 else ())
+    arcs = ((0, things - 1),) if things > 1 else ()
+    return (tuple(range(things)), arcs)
 
 
 def is_point(value):
