@@ -49,6 +49,12 @@ def check_number(number, least, most):
         raise InvalidNumber("the number must be an integer within its bounds")
 
 
+def check_from_zero(number):
+    """Let an integer from 0 on pass."""
+    if not is_integer(number) or number < 0:
+        raise InvalidNumber("the number must be an integer from 0 on")
+
+
 def check_corner(corner, least, most):
     """Let a corner pass that is from the least one to the most."""
     if not is_within(corner, least, most):

@@ -2,7 +2,8 @@
 
 from math import comb
 
-from parkedrows.checks import added, check_cars, check_most, check_number, is_integer, is_within, multiplied, power
+from parkedrows.checks import (added, check_cars, check_from_zero, check_most, check_number, is_within, multiplied,
+                               power)
 from parkedrows.errors import InvalidCars, InvalidNumber
 from parkedrows.rows import check_row, is_parked
 
@@ -58,8 +59,7 @@ def row_number(row):
 def row_with(cars, number):
     """The parked row of at most 9 cars with this index in ascending order."""
     check_cars(cars)
-    if not is_integer(number) or number < 0:
-        raise InvalidNumber("the number must be an integer from 0 on")
+    check_from_zero(number)
     check_most(cars, MOST_NUMBERED)
     if number >= many_parked(cars):
         raise InvalidNumber("there are not more than so many rows")

@@ -1,7 +1,6 @@
 """How many meshes there are by their excess, and by their ties."""
 
-from parkedrows.checks import added, check_number, is_integer, is_within, multiplied
-from parkedrows.errors import InvalidNumber
+from parkedrows.checks import added, check_from_zero, check_number, is_within, multiplied
 from parkedrows.rowlists import moves_of_parked
 
 MOST_CORNERS = 16
@@ -20,8 +19,7 @@ def excess_spread(corners):
 def count_connected(corners, ties):
     """How many meshes of 1 to 16 corners have so many ties."""
     check_number(corners, 1, MOST_CORNERS)
-    if not is_integer(ties) or ties < 0:
-        raise InvalidNumber("ties must be an integer from 0 on")
+    check_from_zero(ties)
     spread = excess_spread(corners)
     if not is_within(ties - corners, 0, len(spread) - 1):
         return 0

@@ -424,3 +424,104 @@ def tables_by_turns(places, homes):
     """The ascending list of the tables that come of homes in all turns."""
     tables = {lay_by_turn(places, homes, turn)[0] for turn in itertools.permutations(present(homes))}
     return sorted(tables, key=lambda table: [-1 if item is None else item for item in table])
+
+
+def hang_together(corners, ties):
+    """Whether one comes from the root along ties to each corner."""
+    met, line = {0}, [0]
+    for here in line:
+        for tie in ties:
+            if here in tie and not set(tie) <= met:
+                met.update(tie)
+                line.append(sum(tie) - here)
+    return len(met) == corners + 1
+
+
+def meshes_tried(corners):
+    """The ascending list of all meshes: of all lots of ties those by which all corners hang together."""
+    ties = list(itertools.combinations(range(corners + 1), 2))
+    return sorted(lot for many in range(len(ties) + 1) for lot in itertools.combinations(ties, many)
+                  if hang_together(corners, lot))
+
+
+def few_meshes():
+    """All meshes of one to three corners, and some of four."""
+    return [mesh for corners in (1, 2, 3) for mesh in meshes_tried(corners)] + meshes_tried(4)[::9]
+
+
+def tree_ties(tree):
+    """The ascending tuple of the ties of all corners of a tree with their parents."""
+    return tuple(sorted(tuple(sorted((corner, parent))) for corner, parent in enumerate(tree, 1)))
+
+
+def walk_line(mesh, word):
+    """The pair of the tree and of the line, by the queue or the stack."""
+    corners = max(high for _, high in mesh)
+    line, parents, at = [0], {}, 0
+    while at < len(line):
+        here = line[at]
+        joining = sorted(sum(tie) - here for tie in mesh if here in tie and sum(tie) - here not in line)
+        parents.update((corner, here) for corner in joining)
+        line[len(line) if word == "queue" else at + 1:len(line) if word == "queue" else at + 1] = joining
+        at += 1
+    return tuple(parents[corner] for corner in range(1, corners + 1)), tuple(line)
+
+
+def walk_deep(mesh):
+    """The pair of the tree and of the line that the walker makes."""
+    corners, line, parents = max(high for _, high in mesh), [0], {}
+
+    def walk(here):
+        for other in range(corners, 0, -1):
+            if tuple(sorted((here, other))) in mesh and other not in line:
+                parents[other] = here
+                line.append(other)
+                walk(other)
+
+    walk(0)
+    return tuple(parents[corner] for corner in range(1, corners + 1)), tuple(line)
+
+
+def take_rings_apart(mesh):
+    """The tree that is left when the least tie that is no bridge is taken away, as long as there is one."""
+    corners, left = max(high for _, high in mesh), list(mesh)
+    while True:
+        free = [tie for tie in left if hang_together(corners, [other for other in left if other != tie])]
+        if not free:
+            return walk_line(left, "queue")[0]
+        left.remove(min(free))
+
+
+def search_done(mesh, search):
+    """The tree that a search finds, done step by step."""
+    if search == "rings":
+        return take_rings_apart(mesh)
+    return walk_deep(mesh)[0] if search == "deep" else walk_line(mesh, search)[0]
+
+
+def outer_tried(tree, search):
+    """The ascending list of the ties with each of which the search finds the tree, too."""
+    own = tree_ties(tree)
+    others = [tie for tie in itertools.combinations(range(len(tree) + 1), 2) if tie not in own]
+    return [tie for tie in others if search_done(tuple(sorted(own + (tie,))), search) == tree]
+
+
+def judge(row, clues):
+    """Whether a row keeps clues, its cars being parked."""
+    spots = drive(row)
+    told = {"wish": row, "spot": spots, "moved": tuple(spot - wish for wish, spot in zip(row, spots)),
+            "all": (sum(spots) - sum(row),)}
+    return all(clue[-2] <= told[clue[0]][clue[1] if len(clue) == 4 else 0] <= clue[-1] for clue in clues)
+
+
+def drawn_clue(draw, cars):
+    """A clue of so many cars, drawn."""
+    word = draw.choice(("wish", "spot", "moved", "all"))
+    most = min(66, cars * (cars - 1) // 2 + 1) if word == "all" else cars - 1
+    limits = tuple(sorted((draw.randint(0, most), draw.randint(0, most))))
+    return (word,) + limits if word == "all" else (word, draw.randrange(cars)) + limits
+
+
+def some_clues(draw, cars, many):
+    """A list of so many tuples of none to six clues of so many cars, drawn, and of one without clues."""
+    return [()] + [tuple(drawn_clue(draw, cars) for _ in range(draw.randint(1, 6))) for _ in range(many)]

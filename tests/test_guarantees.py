@@ -15,7 +15,11 @@ from parkedrows.labels import cars_changed, labelled_of, row_of_labelled, second
 from parkedrows.labelsweeps import labelled_by_sweep, sweep_cells, sweep_of
 from parkedrows.loadgroup import akin_load, akin_row, are_akin, load_order, load_sum
 from parkedrows.loads import settled, spills_of
+from parkedrows.heldrows import count_held
 from parkedrows.lots import homes_of_rows, lot_rows
+from parkedrows.luckies import zeros_spread
+from parkedrows.meshes import all_meshes, mesh_bridges, mesh_with, mesh_without
+from parkedrows.meshparts import mesh_of, meshes_by, outer_spread, parts_of
 from parkedrows.partings import complement, is_finer, parting_turned, partings
 from parkedrows.pathcounts import bounce_counts, difference_counts, joint_counts, meeting_counts
 from parkedrows.paths import bounce, meeting_pairs, path_area
@@ -25,19 +29,24 @@ from parkedrows.planelabels import field_by_label, field_label
 from parkedrows.planewalls import field_distance, floors_of, plane_crossed, plane_way, planes_between
 from parkedrows.rowlists import parked_rows
 from parkedrows.rows import displacement, is_parked, is_prime
+from parkedrows.searches import does_keep, outer_ties, tree_found
+from parkedrows.slopes import count_sloped
 from parkedrows.soundtables import count_sound, even_table, is_sound, sound_tables, squares_of
+from parkedrows.spreads import displacement_spread, displacement_value, overtaking_spread
 from parkedrows.sweeps import swept
 from parkedrows.tablecounts import count_homes, homes_by_cost, homes_by_lots, homes_for
 from parkedrows.tablefills import cost_of, filled_places, steps_of, table_of
 from parkedrows.tableshifts import closed_up, homes_with, homes_without, put_in
-from parkedrows.trees import code_of, is_tree
-from parkedrows.treerows import tree_by_queue, tree_by_stack
+from parkedrows.trees import children_of, code_of, is_tree, tree_overtakings
+from parkedrows.treerows import row_by_queue, row_by_stack, tree_by_queue, tree_by_stack
 from parkedrows.webcounts import excess_spread
 from parkedrows.webloads import count_web_loads, full_web, web_loads
 from parkedrows.webtrees import group_sizes, load_of_tree, tree_of_load, web_trees
-from tests.helper import (chains_tried, drive, exchanges_done, exchanges_tried, few_paths, few_rows, few_webs,
-                          homes_tried, loads_again, present, ring_rows, rows_driven, some_homes, spill_by_spill,
-                          tables_by_turns, tally)
+from tests.helper import (chains_tried, drive, exchanges_done, exchanges_tried, few_paths, few_rows, few_trees,
+                          few_webs, homes_tried, loads_again, present, ring_rows, rows_driven, some_homes,
+                          spill_by_spill, tables_by_turns, tally, trees_walked)
+
+SEARCHES = ("queue", "stack", "deep", "rings")
 
 
 class TestRowsAndTrees(unittest.TestCase):
@@ -363,3 +372,58 @@ class TestMeshes(unittest.TestCase):
             for number in (-3, -2, -1, 0, 1, 2, 5):
                 self.assertEqual(sum((number + 1) ** displacement(row) for row in rows_driven(corners)),
                                  sum(many * number ** excess for excess, many in enumerate(spread)))
+
+    def test_as_many_displacements_as_overtakings(self):
+        for cars in (1, 2, 3, 4, 5):
+            moves = tally(displacement(row) for row in rows_driven(cars))
+            many = tally(len(tree_overtakings(tree)) for tree in trees_walked(cars))
+            self.assertEqual(moves, many)
+            self.assertEqual([tuple(moves[more] for more in sorted(moves))] * 2,
+                             [displacement_spread(cars), overtaking_spread(cars)])
+
+    def test_orders_that_rise_and_fall_by_turns(self):
+        for things in range(1, 9):
+            turns = [order for order in itertools.permutations(range(things))
+                     if all((order[at] < order[at + 1]) == (at % 2 == 0) for at in range(things - 1))]
+            self.assertEqual(len(turns), abs(displacement_value(things, -1)))
+
+    def test_rows_within_bounds_by_a_step(self):
+        for first, step, many in itertools.product((1, 2, 5), (0, 1, 4), (1, 2, 3, 6, 12)):
+            told = first * (first + many * step) ** (many - 1)
+            bounds = tuple(first + step * at for at in range(many))
+            self.assertEqual([told, told], [count_held(bounds), count_sloped(first, step, many)])
+
+    def test_zeros_beside_children_of_the_root(self):
+        for cars in (1, 2, 3, 4, 5):
+            zeros = tally(row.count(0) for row in rows_driven(cars))
+            self.assertEqual(zeros, tally(len(children_of(tree, 0)) for tree in trees_walked(cars)))
+            self.assertEqual(tuple(zeros.get(many, 0) for many in range(cars + 1)), zeros_spread(cars))
+
+    def test_each_mesh_is_that_of_one_tree(self):
+        for corners, search in itertools.product((1, 2, 3, 4), SEARCHES):
+            meshes, trees = all_meshes(corners), trees_walked(corners)
+            self.assertEqual(len(meshes), sum(2 ** len(outer_ties(tree, search)) for tree in trees))
+            self.assertEqual(meshes, sorted(mesh for tree in trees for mesh in meshes_by(tree, search)))
+            for mesh in meshes:
+                tree, ties = parts_of(mesh, search)
+                self.assertEqual(mesh, mesh_of(tree, search, ties))
+
+    def test_as_many_outer_ties_as_displacements(self):
+        for corners, search in itertools.product((1, 2, 3, 4), SEARCHES):
+            self.assertEqual(displacement_spread(corners), outer_spread(corners, search))
+
+    def test_outer_ties_beside_displacement_and_overtakings(self):
+        for tree in few_trees() + [(6, 6, 6, 6, 6, 0, 6, 7, 7, 7, 7, 7), (0,) * 12, tuple(range(2, 13)) + (0,)]:
+            self.assertEqual([displacement(row_by_queue(tree)), displacement(row_by_stack(tree)),
+                              len(tree_overtakings(tree))],
+                             [len(outer_ties(tree, search)) for search in ("queue", "stack", "deep")])
+
+    def test_outer_ties_leave_the_tree(self):
+        for mesh, search in itertools.product(all_meshes(3) + all_meshes(4)[::25], SEARCHES):
+            tree, bridges = tree_found(mesh, search), mesh_bridges(mesh)
+            outer = outer_ties(tree, search)
+            for tie in itertools.combinations(range(len(tree) + 1), 2):
+                self.assertIs(tie in outer, does_keep(mesh, tie, search))
+                if tie not in bridges:
+                    changed = mesh_without(mesh, tie) if tie in mesh else mesh_with(mesh, tie)
+                    self.assertIs(tie in outer, tree_found(changed, search) == tree)

@@ -64,7 +64,21 @@ INTERFACE = {
     "tableshifts": "homes_without(places,homes,thing) freed_place(places,homes,thing) "
                    "closed_up(places,homes,table,thing) homes_with(places,homes,thing,home) "
                    "put_in(places,homes,table,thing,home)",
+    "spreads": "displacement_spread(few_cars) wish_sum_spread(few_cars) overtaking_spread(few_cars) "
+               "total_displacement(few_cars) displacement_value(few_cars,number)",
     "webcounts": "excess_spread(corners) count_connected(corners,ties)",
+    "luckies": "lucky_spread(many_cars) zeros_spread(many_cars) count_beginning(many_cars,wishes) "
+               "count_by_counts(counts)",
+    "heldrows": "are_bounds(value) is_held(bounds,value) count_held(bounds) count_held_rising(bounds) "
+                "held_rows(bounds) held_rising(bounds) held_spread(bounds)",
+    "slopes": "count_sloped(first,step,cars) sloped_rest(first,step,far_cars,modulus) parked_rest(far_cars,modulus) "
+              "prime_rest(far_cars,modulus)",
+    "meshes": "is_mesh(value) tree_mesh(tree) full_mesh(corners) mesh_excess(mesh) mesh_bridges(mesh) "
+              "mesh_with(mesh,tie) mesh_without(mesh,tie) all_meshes(corners)",
+    "searches": "tree_found(mesh,search) line_found(mesh,search) outer_ties(tree,search) does_keep(mesh,tie,search)",
+    "meshparts": "mesh_of(tree,search,ties) parts_of(mesh,search) meshes_by(tree,search) carried(mesh,one,other) "
+                 "mesh_number(mesh,search) mesh_with_number(corners,search,number) outer_spread(corners,search)",
+    "clues": "are_clues(cars,value) keeps_clues(row,clues)",
 }
 
 
