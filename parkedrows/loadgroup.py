@@ -17,10 +17,25 @@ def akin_parked(grains):
     return row
 
 
+def row_again(grains):
+    """The row of the load that comes again and is akin to so many grains, which may be below 0."""
+    # Turning leads what is akin to what is akin, and parked rows to loads that come again.
+    return akin_parked(turned(grains))
+
+
 def akin_again(grains):
     """The load that comes again and is akin to so many grains, which may be below 0."""
-    # Turning leads what is akin to what is akin, and parked rows to loads that come again.
-    return turned(akin_parked(turned(grains)))
+    return turned(row_again(grains))
+
+
+def rows_summed(row, other):
+    """The row of the sum of the loads of two rows of as many cars."""
+    return row_again([one + more for one, more in zip(turned(row), turned(other))])
+
+
+def row_times(row, times):
+    """The row of so many times the load of a row; of opposites for a number below 0."""
+    return row_again([grains * times for grains in turned(row)])
 
 
 def neutral_load(cars):

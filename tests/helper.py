@@ -525,3 +525,119 @@ def drawn_clue(draw, cars):
 def some_clues(draw, cars, many):
     """A list of so many tuples of none to six clues of so many cars, drawn, and of one without clues."""
     return [()] + [tuple(drawn_clue(draw, cars) for _ in range(draw.randint(1, 6))) for _ in range(many)]
+
+
+def line_tree(row, word):
+    """The tree of a row by the queue or the stack, corner by corner in the line."""
+    line = [0]
+    for at in range(len(row)):
+        joining = [car + 1 for car, wish in enumerate(row) if wish == at]
+        line[len(line) if word == "queue" else at + 1:len(line) if word == "queue" else at + 1] = joining
+    return tuple(line[wish] for wish in row)
+
+
+def row_of_line_tree(tree, word):
+    """The row whose tree by the queue or the stack this is, walked from the root on."""
+    line, at = [0], 0
+    while at < len(line):
+        joining = [corner for corner, parent in enumerate(tree, 1) if parent == line[at]]
+        line[len(line) if word == "queue" else at + 1:len(line) if word == "queue" else at + 1] = joining
+        at += 1
+    return tuple(line.index(parent) for parent in tree)
+
+
+def grained(row, corner, times):
+    """The row of the load of a row with so many grains more on a corner, or fewer, one by one."""
+    cars = len(row)
+    load = tuple(cars - 1 - wish for wish in row)
+    # So many grains as there are cars, and one more, lead back: all but one of them take one away.
+    for _ in range(times if times >= 0 else -times * cars):
+        load = spill_by_spill([grains + (at == corner - 1) for at, grains in enumerate(load)], max)[0]
+    return tuple(cars - 1 - grains for grains in load)
+
+
+def rows_added(row, other):
+    """The row of the sum of the loads of two rows."""
+    most = len(row) - 1
+    load = spill_by_spill([2 * most - one - more for one, more in zip(row, other)], max)[0]
+    return tuple(most - grains for grains in load)
+
+
+def put(items, at, item):
+    """A tuple with another item at an index."""
+    return tuple(item if index == at else other for index, other in enumerate(items))
+
+
+def cut(items, at):
+    """A tuple without the item at an index."""
+    return tuple(item for index, item in enumerate(items) if index != at)
+
+
+def step_row(row, word, told):
+    """The row behind a step that changes nothing but wishes, or None if it can't be done."""
+    cars = len(row)
+    if word == "exchange":
+        one, other = told
+        return put(put(row, one, row[other]), other, row[one]) if max(told) < cars else None
+    if word in ("lower", "raise"):
+        changed = put(row, told[0], row[told[0]] + (1 if word == "raise" else -1)) if told[0] < cars else (-1,)
+        return changed if min(changed) >= 0 and drive(changed) is not None else None
+    if word == "swing":
+        corner, other = told
+        if max(told) > cars:
+            return None
+        tree = line_tree(row, "queue")
+        return row_of_line_tree(put(tree, corner - 1, other), "queue") if not other or corner not in \
+            ancestors(tree, other) else None
+    if word == "grain":
+        return grained(row, *told) if told[0] <= cars else None
+    if word == "sum":
+        return rows_added(row, told[0]) if len(told[0]) == cars else None
+    one, other = ("stack", "queue") if word == "over" else ("queue", "stack")
+    return row_of_line_tree(line_tree(row, one), other)
+
+
+def step_done(state, step):
+    """The state behind a step, done as it is told, or None if it can't be done."""
+    (row, spot, marks), (word, *told) = state, step
+    cars = len(row)
+    if word == "come":
+        wish, mark = told
+        return (row + (wish,), spot, marks + (mark,)) if cars < 12 and wish <= cars else None
+    if word == "leave":
+        car, = told
+        rest = cut(row, car)
+        if cars == 1 or car >= cars or spot == cars - 1 or drive(rest) is None:
+            return None
+        return (rest, spot, cut(marks, car))
+    if word == "watch":
+        return (row, told[0], marks) if told[0] < cars else None
+    if word == "mark":
+        return (row, spot, put(marks, *told)) if told[0] < cars else None
+    changed = step_row(row, word, told)
+    return None if changed is None else (changed, spot, marks)
+
+
+def drawn_row(draw, cars):
+    """A parked row of so many cars, drawn: a ring row, turned till all cars are parked."""
+    row = [draw.randint(0, cars) for _ in range(cars)]
+    while drive(row) is None or max(row) == cars:
+        row = [(wish + 1) % (cars + 1) for wish in row]
+    return tuple(row)
+
+
+def drawn_state(draw, cars):
+    """A state of so many cars, drawn."""
+    return (drawn_row(draw, cars), draw.randrange(cars), tuple(draw.randint(0, 99) for _ in range(cars)))
+
+
+def drawn_step(draw, cars):
+    """A step, drawn for a state of so many cars; perhaps it can't be done."""
+    car, other = draw.randint(0, min(cars, 11)), draw.randint(0, min(cars, 11))
+    word = draw.choice("exchange lower raise come leave swing grain sum over back watch mark".split())
+    told = {"exchange": (car, (car + 1) % 12 if other == car else other), "lower": (car,), "raise": (car,),
+            "come": (other, draw.randint(0, 99)), "leave": (car,),
+            "swing": (car + 1, 0 if other == car + 1 else other), "grain": (car + 1, draw.randint(-9, 9)),
+            "sum": (drawn_row(draw, draw.choice((cars, cars, cars, max(1, cars - 1)))),), "over": (), "back": (),
+            "watch": (car,), "mark": (car, draw.randint(0, 99))}
+    return (word,) + told[word]

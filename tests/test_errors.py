@@ -1,8 +1,12 @@
 """Tests of parkedrows.errors: [96]."""
 
+import ast
+import pathlib
 import unittest
 
 from parkedrows import errors
+
+FOLDER = pathlib.Path(__file__).resolve().parent.parent / "parkedrows"
 
 NAMES = """InvalidRow InvalidTree InvalidCars InvalidNumber InvalidRing InvalidCorner InvalidCode InvalidPath
 InvalidSteps InvalidLabelled InvalidCar InvalidSweep InvalidLoad InvalidWeb InvalidField InvalidPoint InvalidPlane
@@ -47,3 +51,11 @@ class TestErrors(unittest.TestCase):
     def test_none_has_a_limit_besides(self):
         for name in NAMES:
             self.assertFalse(hasattr(getattr(errors, name)("not so"), "limit"), name)
+
+    def test_each_is_raised_somewhere(self):
+        raised = set()
+        for path in FOLDER.glob("*.py"):
+            for node in ast.walk(ast.parse(path.read_text())):
+                if isinstance(node, ast.Raise):
+                    raised.add(node.exc.func.id)
+        self.assertEqual(set(NAMES + ["TooMany", "TypeError"]), raised)

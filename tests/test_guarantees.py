@@ -2,17 +2,24 @@
 
 import itertools
 import math
+import random
 import unittest
 
 from parkedrows.burning import load_level, load_of_row, row_of_load
 from parkedrows.chaincounts import count_begun, count_layers, count_partings
 from parkedrows.chains import are_exchanges, chain_of, exchanges_of, row_of_chain, row_of_exchanges
+from parkedrows.cluecounts import clued_moves, count_clued
+from parkedrows.clueleft import clue_clash, moves_left, spots_left, wishes_left
 from parkedrows.circles import is_ring_row, ring_free, ring_spots, ring_turned
 from parkedrows.exchangemoves import (exchanges_mirrored, exchanges_round, exchanges_turned, moved_ahead, moved_behind,
                                       moves_to)
 from parkedrows.grains import grain_added
 from parkedrows.labels import cars_changed, labelled_of, row_of_labelled, second_count
 from parkedrows.labelsweeps import labelled_by_sweep, sweep_cells, sweep_of
+from parkedrows.lifebenches import Bench
+from parkedrows.lifesteps import all_stepped, script_to, step_back
+from parkedrows.lifetexts import read_script, read_state, script_text, state_text
+from parkedrows.lifevalues import Marked
 from parkedrows.loadgroup import akin_load, akin_row, are_akin, load_order, load_sum
 from parkedrows.loads import settled, spills_of
 from parkedrows.heldrows import count_held
@@ -20,15 +27,16 @@ from parkedrows.lots import homes_of_rows, lot_rows
 from parkedrows.luckies import zeros_spread
 from parkedrows.meshes import all_meshes, mesh_bridges, mesh_with, mesh_without
 from parkedrows.meshparts import mesh_of, meshes_by, outer_spread, parts_of
+from parkedrows.outcomes import count_of_spots, lows_of_spots, moves_of_spots
 from parkedrows.partings import complement, is_finer, parting_turned, partings
 from parkedrows.pathcounts import bounce_counts, difference_counts, joint_counts, meeting_counts
 from parkedrows.paths import bounce, meeting_pairs, path_area
 from parkedrows.planefields import (all_fields, count_closed_fields, count_fields, count_off_planes, field_of,
-                                    is_closed_field, point_in)
+                                    is_closed_field, middle_field, point_in)
 from parkedrows.planelabels import field_by_label, field_label
 from parkedrows.planewalls import field_distance, floors_of, plane_crossed, plane_way, planes_between
 from parkedrows.rowlists import parked_rows
-from parkedrows.rows import displacement, is_parked, is_prime
+from parkedrows.rows import displacement, is_parked, is_prime, spots_of
 from parkedrows.searches import does_keep, outer_ties, tree_found
 from parkedrows.slopes import count_sloped
 from parkedrows.soundtables import count_sound, even_table, is_sound, sound_tables, squares_of
@@ -42,9 +50,10 @@ from parkedrows.treerows import row_by_queue, row_by_stack, tree_by_queue, tree_
 from parkedrows.webcounts import excess_spread
 from parkedrows.webloads import count_web_loads, full_web, web_loads
 from parkedrows.webtrees import group_sizes, load_of_tree, tree_of_load, web_trees
-from tests.helper import (chains_tried, drive, exchanges_done, exchanges_tried, few_paths, few_rows, few_trees,
-                          few_webs, homes_tried, loads_again, present, ring_rows, rows_driven, some_homes,
-                          spill_by_spill, tables_by_turns, tally, trees_walked)
+from tests.helper import (chains_tried, drawn_row, drawn_state, drawn_step, drive, exchanges_done, exchanges_tried,
+                          few_paths, few_rows, few_trees, few_webs, homes_tried, judge, loads_again, present,
+                          ring_rows, rows_driven, some_clues, some_homes, spill_by_spill, step_done, tables_by_turns,
+                          tally, trees_walked)
 
 SEARCHES = ("queue", "stack", "deep", "rings")
 
@@ -427,3 +436,111 @@ class TestMeshes(unittest.TestCase):
                 if tie not in bridges:
                     changed = mesh_without(mesh, tie) if tie in mesh else mesh_with(mesh, tie)
                     self.assertIs(tie in outer, tree_found(changed, search) == tree)
+
+
+class TestSpotsAndClues(unittest.TestCase):
+    def test_rows_by_which_all_cars_come_to_spots(self):
+        for cars in (1, 2, 3, 4, 5):
+            rows = rows_driven(cars)
+            for spots in itertools.permutations(range(cars)):
+                ranges = [range(low, spot + 1) for low, spot in zip(lows_of_spots(spots), spots)]
+                led = list(itertools.product(*ranges))
+                self.assertEqual([spots] * len(led), [spots_of(row) for row in led])
+                self.assertEqual([len(led), len(led)], [count_of_spots(spots), sum(moves_of_spots(spots))])
+            self.assertEqual(len(rows), sum(map(count_of_spots, itertools.permutations(range(cars)))))
+
+    def test_products_come_to_all_rows(self):
+        for cars in range(1, 8):
+            orders = itertools.permutations(range(cars))
+            self.assertEqual((cars + 1) ** (cars - 1), sum(count_of_spots(spots) for spots in orders))
+
+    def test_clues_that_go_together(self):
+        draw = random.Random(3)
+        for cars in (1, 2, 3, 4):
+            rows = rows_driven(cars)
+            for clues in some_clues(draw, cars, 30):
+                kept = [row for row in rows if judge(row, clues)]
+                together = bool(kept)
+                self.assertEqual([together] * 4, [moves_left(cars, clues) is not None, clue_clash(cars, clues) is None,
+                                                  wishes_left(cars, clues) is not None, count_clued(cars, clues) > 0])
+
+    def test_without_clues(self):
+        for cars in range(1, 10):
+            self.assertEqual([(cars + 1) ** (cars - 1), displacement_spread(cars), (0, cars * (cars - 1) // 2)],
+                             [count_clued(cars, ()), clued_moves(cars, ()), moves_left(cars, ())])
+
+    def test_clues_that_tell_all_spots(self):
+        for spots in itertools.permutations(range(4)):
+            clues = tuple(("spot", car, spot, spot) for car, spot in enumerate(spots))
+            moves = moves_of_spots(spots)
+            self.assertEqual([count_of_spots(spots), moves + (0,) * (7 - len(moves)), tuple((spot,) for spot in spots)],
+                             [count_clued(4, clues), clued_moves(4, clues), spots_left(4, clues)])
+            self.assertEqual(tuple(tuple(range(low, spot + 1)) for low, spot in zip(lows_of_spots(spots), spots)),
+                             wishes_left(4, clues))
+
+
+class TestStates(unittest.TestCase):
+    def test_scripts_led_back(self):
+        draw = random.Random(4)
+        for cars in (1, 2, 3, 5, 8, 11, 12):
+            for _ in range(12):
+                states, script = [drawn_state(draw, cars)], []
+                while len(script) < 30:
+                    step = drawn_step(draw, len(states[-1][0]))
+                    if step[0] != "leave" and step_done(states[-1], step) is not None:
+                        script.append(step)
+                        states = all_stepped(states[0], tuple(script))
+                backward = [step_back(state, step) for state, step in zip(states, script)][::-1]
+                self.assertEqual(states[::-1], all_stepped(states[-1], tuple(backward)))
+                self.assertEqual(tuple(script), read_script(script_text(tuple(script))))
+
+    def test_each_state_from_each_other_one(self):
+        states = [(row, spot, marks) for row in rows_driven(3)[::3] for spot in range(3)
+                  for marks in ((0, 0, 0), (1, 99, 0))]
+        for one, other in itertools.product(states, repeat=2):
+            self.assertEqual(other, all_stepped(one, script_to(one, other))[-1])
+            bench = Bench(one)
+            bench += script_to(one, other)
+            self.assertEqual(other, bench.state)
+            bench.undo()
+            self.assertEqual(one, bench.state)
+
+    def test_texts(self):
+        draw = random.Random(5)
+        for cars in range(1, 13):
+            state = drawn_state(draw, cars)
+            self.assertEqual(state, read_state(state_text(state)))
+            row, _, marks = state
+            self.assertEqual(Marked(row, marks), Marked.read(str(Marked(row, marks))))
+
+
+class TestAllTogether(unittest.TestCase):
+    def rows(self):
+        """All rows of one to four cars, and some of more."""
+        draw = random.Random(6)
+        return few_rows() + [drawn_row(draw, cars) for cars in (5, 6, 7, 8) for _ in range(6)]
+
+    def test_the_displacement_of_a_row(self):
+        for row in self.rows():
+            cars, moves = len(row), displacement(row)
+            self.assertEqual([moves] * 6, [path_area(labelled_of(row)[0]), load_level(load_of_row(row)),
+                                           cost_of(cars + 1, row), len(outer_ties(tree_by_queue(row), "queue")),
+                                           len(outer_ties(tree_by_stack(row), "stack")),
+                                           sum(spots_of(row)) - sum(row)])
+            self.assertEqual(cars * (cars - 1) // 2 - moves, field_distance(middle_field(cars), field_by_label(row)))
+
+    def test_there_and_back(self):
+        for row in self.rows():
+            self.assertEqual([row] * 9, [row_of_labelled(labelled_of(row)), row_of_load(load_of_row(row)),
+                                         row_by_queue(tree_by_queue(row)), row_by_stack(tree_by_stack(row)),
+                                         field_label(field_by_label(row)), row_of_chain(chain_of(row)),
+                                         row_of_exchanges(exchanges_of(row)), akin_row(row),
+                                         Marked(row, (0,) * len(row)).row])
+
+    def test_how_many_of_each(self):
+        for cars in (1, 2, 3, 4):
+            many = [count_fields(cars), count_web_loads(full_web(cars)), count_held(tuple(range(1, cars + 1))),
+                    count_sloped(1, 1, cars), count_clued(cars, ()), sum(displacement_spread(cars)),
+                    sum(zeros_spread(cars)), excess_spread(cars)[0], sum(outer_spread(cars, "rings")),
+                    displacement_value(cars, 1), len(exchanges_tried(cars))]
+            self.assertEqual([len(parked_rows(cars))] * len(many), many)

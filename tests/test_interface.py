@@ -79,6 +79,26 @@ INTERFACE = {
     "meshparts": "mesh_of(tree,search,ties) parts_of(mesh,search) meshes_by(tree,search) carried(mesh,one,other) "
                  "mesh_number(mesh,search) mesh_with_number(corners,search,number) outer_spread(corners,search)",
     "clues": "are_clues(cars,value) keeps_clues(row,clues)",
+    "cluecounts": "count_clued(cars,clues) clued_moves(cars,clues) first_clued(cars,clues) last_clued(cars,clues) "
+                  "clued_with(cars,clues,number) clued_number(row,clues) clued_rows(cars,clues)",
+    "clueleft": "wishes_left(cars,clues) spots_left(cars,clues) moves_left(cars,clues) clue_clash(cars,clues)",
+    "outcomes": "are_spots(value) count_of_spots(spots) lows_of_spots(spots) moves_of_spots(spots)",
+    "rowpapers": "row_questions(cars,clues) next_question(cars,clues) row_paper(cars,clues) "
+                 "is_row_paper(cars,clues,value)",
+    "lifesteps": "is_state(value) is_step(value) is_script(value) seen_car(state) stepped(state,step) "
+                 "all_stepped(state,script) step_back(state,step) script_to(one,other) steps_that_can(state,steps)",
+    "lifetexts": "state_text(state) script_text(script) read_state(value) read_script(value)",
+}
+
+# The classes, each with its methods, its class method, its operators, its properties and its class value.
+CLASSES = {
+    "lifevalues": ("Marked", {"__init__": ["self", "row", "marks"], "__call__": ["self", "corner"],
+                              "read": ["cls", "value"]},
+                   "add iadd mul invert xor sub lshift le getitem contains iter len bool str eq", "row marks spots load",
+                   12),
+    "lifebenches": ("Bench", {"__init__": ["self", "state"], "do": ["self", "step"], "undo": ["self"],
+                              "redo": ["self"], "attempt": ["self", "action"], "lines": ["self"]},
+                    "iadd getitem contains iter len bool eq", "state row spot marks seen spots log", 60),
 }
 
 
@@ -102,3 +122,26 @@ class TestInterface(unittest.TestCase):
             defined = [node.name for node in tree.body if isinstance(node, ast.FunctionDef)]
             for told in listed.split():
                 self.assertEqual(1, defined.count(told.split("(")[0]), told)
+
+    def test_no_other_modules(self):
+        helpers = ["__init__", "checks", "errors"]
+        self.assertEqual(sorted(list(INTERFACE) + list(CLASSES) + helpers), sorted(path.stem for path in FOLDER.glob("*.py")))
+
+    def test_classes(self):
+        for module, (name, methods, operators, properties, most) in CLASSES.items():
+            tree = ast.parse((FOLDER / (module + ".py")).read_text())
+            body, = [node.body for node in tree.body if isinstance(node, ast.ClassDef) and node.name == name]
+            defined = {node.name: node for node in body if isinstance(node, ast.FunctionDef)}
+            for method, names in methods.items():
+                self.assertEqual(names, [arg.arg for arg in defined[method].args.args], method)
+                self.assertEqual([], defined[method].args.defaults, method)
+            for operator in operators.split():
+                self.assertIn(f"__{operator}__", defined)
+            found = getattr(importlib.import_module("parkedrows." + module), name)
+            for told in properties.split():
+                self.assertIn(told, defined)
+                self.assertIsInstance(vars(found)[told], property)
+                self.assertIsNone(vars(found)[told].fset)
+            self.assertEqual([(object,), most], [found.__bases__, vars(found)["MOST"]])
+        self.assertIsInstance(vars(importlib.import_module("parkedrows.lifevalues").Marked)["read"], classmethod)
+        self.assertTrue(inspect.isgeneratorfunction(importlib.import_module("parkedrows.lifebenches").Bench.lines))

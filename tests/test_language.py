@@ -198,6 +198,136 @@ def faults(text, defined):
             + value_faults(tree) + word_faults(text))
 
 
+# Methods that a class may have in place of a change: what they do is done to the object itself.
+IN_PLACE = ("__init__", "__iadd__", "__call__", "__iter__")
+CHANGING = "append clear extend insert pop remove reverse setdefault update add discard".split()
+NO_ATTRIBUTES = """items keys values pop update append clear extend insert remove reverse setdefault sort args encode
+decode hex fromhex format""".split()
+
+
+def is_plain(node):
+    """Whether what is ordered is plainly numbers or strings, as the code shows."""
+    if isinstance(node, (ast.ListComp, ast.List)):
+        parts = [node.elt] if isinstance(node, ast.ListComp) else node.elts
+        return all(is_plain(part) for part in parts)
+    if isinstance(node, ast.Call) and isinstance(node.func, ast.Name):
+        return node.func.id in ("len", "int", "ord", "str", "repr", "range")
+    return isinstance(node, ast.Constant)
+
+
+def order_faults(tree):
+    """Faults against L5, L7, L19, L23 and L25, for a package whose classes have operators, lengths and an order."""
+    found = []
+    for node in ast.walk(tree):
+        where = getattr(node, "lineno", 0)
+        if isinstance(node, (ast.GeneratorExp, ast.AugAssign)):
+            found.append(f"L5 L7 line {where}")
+        elif isinstance(node, ast.ImportFrom) and node.module == "itertools":
+            found.append(f"L2 line {where}")
+        elif isinstance(node, ast.Call) and isinstance(node.func, ast.Name) and node.func.id in ("sorted", "min", "max"):
+            two = node.func.id != "sorted" and len(node.args) == 2
+            if not (any if two else all)(is_plain(part) for part in node.args):
+                found.append(f"L5 order line {where}")
+        elif isinstance(node, ast.Call) and isinstance(node.func, ast.Attribute) and node.func.attr == "sort":
+            found.append(f"L25 line {where}")
+        elif isinstance(node, ast.Try):
+            found += [f"L19 line {where}" for _ in node.handlers]
+            found += [f"L6 line {where}" for part in node.finalbody if not isinstance(part, ast.If)
+                      or ast.unparse(part.test).split(" ", 1)[-1] != "is not None"
+                      or not all(isinstance(row, ast.Assign) for row in part.body) or part.orelse]
+    return found
+
+
+def class_faults(tree):
+    """Faults against L5, L18, L26 and L28: what classes have."""
+    found = []
+    for node in ast.walk(tree):
+        if not isinstance(node, ast.ClassDef):
+            continue
+        methods = {part.name: part for part in node.body if isinstance(part, ast.FunctionDef)}
+        values = [part.targets[0].id for part in node.body if isinstance(part, ast.Assign)]
+        kept = {part.attr for part in ast.walk(node) if isinstance(part, ast.Attribute)
+                and isinstance(part.ctx, ast.Store)}
+        found += [f"L18 {name}" for name in kept & set(methods) | kept & set(values) | set(values) & set(methods)]
+        found += [f"L26 {name}" for name in kept & set(NO_ATTRIBUTES)]
+        found += [f"L26 {name}" for name in set(methods) | kept if any(hasattr(value, name) for value in
+                  ("", 0, [], {}, set(), b"")) and not name.startswith("__") and name not in METHODS]
+        if "__getitem__" in methods:
+            body = methods["__iter__"].body if "__iter__" in methods else []
+            if len(body) != 1 or not ast.unparse(body[0]).startswith("raise TypeError("):
+                found.append(f"L5 iteration of {node.name}")
+        for name in ("__len__", "__str__", "__repr__", "__bool__"):
+            if name in methods and not isinstance(methods[name].body[-1], ast.Return):
+                found.append(f"L28 {name}")
+        if "__len__" in methods and not ast.unparse(methods["__len__"].body[-1]).startswith("return len("):
+            found.append("L28 __len__")
+    return found
+
+
+def created_in(function):
+    """The names that a function assigns only new lists and dicts, so that it may change these."""
+    told = {}
+    for node in ast.walk(function):
+        if isinstance(node, ast.Assign) and isinstance(node.targets[0], ast.Name):
+            new = isinstance(node.value, (ast.List, ast.ListComp, ast.Dict, ast.DictComp)) or \
+                isinstance(node.value, ast.Call) and ast.unparse(node.value.func) in ("list", "dict", "sorted")
+            told.setdefault(node.targets[0].id, []).append(new)
+    return [name for name in told if all(told[name])]
+
+
+def changes_in(function):
+    """What a function changes that it did not create, and what it calls that it is passed."""
+    created, found = created_in(function), []
+    passed = [arg.arg for arg in function.args.args]
+    for node in ast.walk(function):
+        if isinstance(node, ast.Attribute) and isinstance(node.ctx, (ast.Store, ast.Del)):
+            found.append(f"L5 attribute {node.attr}")
+        elif isinstance(node, ast.Subscript) and isinstance(node.ctx, (ast.Store, ast.Del)):
+            if ast.unparse(node.value) not in created:
+                found.append(f"L5 item of {ast.unparse(node.value)}")
+        elif isinstance(node, ast.Call) and isinstance(node.func, ast.Attribute) and node.func.attr in CHANGING:
+            if ast.unparse(node.func.value) not in created:
+                found.append(f"L5 {ast.unparse(node.func)}")
+        elif isinstance(node, ast.Call) and isinstance(node.func, ast.Name) and node.func.id in passed:
+            found.append(f"L5 call of {node.func.id}")
+    return found
+
+
+def operator_faults(trees):
+    """Faults against L5: what operators and properties change, themselves or by what they call."""
+    functions, waiting = {}, []
+    for tree in trees:
+        for node in tree.body:
+            if isinstance(node, ast.FunctionDef):
+                functions.setdefault(node.name, []).append(node)
+            for part in node.body if isinstance(node, ast.ClassDef) else []:
+                is_property = any(ast.unparse(one) == "property" for one in getattr(part, "decorator_list", []))
+                if is_property or getattr(part, "name", "").startswith("__") and part.name not in IN_PLACE:
+                    waiting.append(part)
+    found, seen = [], []
+    while waiting:
+        function = waiting.pop()
+        if function in seen:
+            continue
+        seen.append(function)
+        found += [f"{change} in {function.name}" for change in changes_in(function)]
+        called = [node.func.id for node in ast.walk(function)
+                  if isinstance(node, ast.Call) and isinstance(node.func, ast.Name)]
+        waiting += [other for name in called for other in functions.get(name, [])]
+    return found
+
+
+BAD_ORDERS = ["def f(a):\n    return sorted(a)", "def f(a, b):\n    return max(a, b)", "def f(a):\n    a.sort()",
+              "def f(a):\n    return min([b for b in a])", "def f(a):\n    return any(b for b in a)",
+              "def f(a):\n    a += 1", "from itertools import product", "def f(a):\n    try:\n        return a[0]\n"
+              "    except KeyError:\n        return 1", "def f(a):\n    try:\n        return a\n    finally:\n        f(0)"]
+BAD_CLASSES = ["class A:\n    def __getitem__(self, at):\n        return at", "class A:\n    MOST = 3\n\n    def MOST(self):\n"
+               "        return 1", "class A:\n    def f(self):\n        self.f = 1", "class A:\n    def f(self):\n"
+               "        self.items = 1", "class A:\n    def __len__(self):\n        return self.many",
+               "class A:\n    def decode(self):\n        return 1"]
+BAD_OPERATORS = ["self.many = 3", "other[0] = 1", "other.append(1)", "self.rows.append(1)", "f(other)", "return other(1)"]
+
+
 BAD = ["x = 1.5", "def f(a):\n    return a / 2", "def f(a, b):\n    return a ** b", "import sys", "from os import path",
        "from parkedrows.rows import nothing", "from . import rows", "def f():\n    from math import gcd\n    return gcd",
        "x = 1\nx = 2", "def f(max):\n    return max", "def f(a):\n    return a is 3", "def f(a):\n    print(a)",
@@ -216,6 +346,33 @@ class TestLanguage(unittest.TestCase):
         self.assertIn("parkedrows.errors", defined)
         for path in files:
             self.assertEqual([], faults(path.read_bytes().decode("ascii"), defined), path.name)
+
+    def test_classes_and_operators(self):
+        trees = [ast.parse(path.read_text()) for path in sorted(FOLDER.glob("*.py"))]
+        for path, tree in zip(sorted(FOLDER.glob("*.py")), trees):
+            self.assertEqual([], order_faults(tree) + class_faults(tree), path.name)
+        self.assertEqual([], operator_faults(trees))
+
+    def test_generators_have_names_of_their_own(self):
+        functions = [node for path in FOLDER.glob("*.py") for node in ast.walk(ast.parse(path.read_text()))
+                     if isinstance(node, ast.FunctionDef)]
+        names = [node.name for node in functions]
+        yielding = [node.name for node in functions
+                    if any(isinstance(part, (ast.Yield, ast.YieldFrom)) for part in ast.walk(node))]
+        self.assertEqual(["lines"], yielding)
+        self.assertEqual(1, names.count("lines"))
+
+    def test_faults_of_classes_are_found(self):
+        for text in BAD_ORDERS:
+            self.assertTrue(order_faults(ast.parse(text)), text)
+        for text in BAD_CLASSES:
+            self.assertTrue(class_faults(ast.parse(text)), text)
+        good = "def f(a):\n    found = [b for b in a]\n    found.append(1)\n    found[0] = max(0, len(a))\n    return found\n"
+        for row in BAD_OPERATORS:
+            text = good.replace("found.append(1)", "a[0] = 1") + f"\n\nclass A:\n    def __add__(self, other):\n        {row}\n"
+            self.assertTrue(operator_faults([ast.parse(text)]), row)
+        tree = ast.parse(good + "\n\nclass A:\n    def __add__(self, other):\n        return f(other)\n")
+        self.assertEqual([], order_faults(tree) + class_faults(tree) + operator_faults([tree]))
 
     def test_no_two_files_import_from_each_other(self):
         ahead = {}
