@@ -129,6 +129,8 @@ class TestClueCounts(unittest.TestCase):
             check_wrong(self, [(function, [2, ()], [cars, (InvalidClues, [(GOOD,), (("spot", 2, 0, 0),)])])])
             self.assertRaises(InvalidClues, function, 12, (("wish", 12, 0, 0),))
         self.assertRaises(InvalidNumber, clued_with, 12, (), -1)
+        self.assertRaises(InvalidClues, clued_number, (0,) * 12, (("wish", 12, 0, 0),))
+        self.assertRaises(InvalidClues, clued_with, 12, [], -1)
 
     def test_new_lists(self):
         check_new(self, [(clued_rows, [3, ()])])

@@ -78,7 +78,8 @@ class TestClueLeft(unittest.TestCase):
         clue, other = ("wish", 0, 0, 0), ("wish", 0, 1, 2)
         self.assertEqual([None, (0, 3), (0, 1), (1,)],
                          [clue_clash(3, (clue,) * 8), clue_clash(3, (clue,) * 3 + (other,) * 5),
-                          clue_clash(3, (clue, other, clue, other)), clue_clash(2, (clue, ("all", 2, 3), ("all", 5, 5)))])
+                          clue_clash(3, (clue, other, clue, other)),
+                          clue_clash(2, (clue, ("all", 2, 3), ("all", 5, 5)))])
 
     def test_nine_cars(self):
         every = (tuple(range(9)),) * 9

@@ -26,7 +26,8 @@ NO_SINGLE = [(), ("wish",), ("wish", 0), ("wish", 0, 0), ("wish", 0, 0, 2, 2), (
              ("all", 0, True), ("all", 0, HUGE), ("all", 0, None), ["wish", 0, 0, 2], ["all", 0, 2], ("Wish", 0, 0, 1),
              ("", 0, 0, 1), ("wishes", 0, 0, 1), ("row", 0, 0, 1), (None, 0, 0, 1), (0, 0, 0, 1), ("wish", HUGE, 0, 1),
              ("wish", "0", 0, 1), ("wish", 0, "0", 1), ("wish", 0, 0, (1,)), ("wish", None, 0, 1), ("wish", 0, 0, HUGE),
-             (("wish",), 0, 0, 1), (("all",), 0, 1), (["all"], 0, 1), (True, 0, 1), "wish", None, 0, ("wish", (0,), 0, 1),
+             (("wish",), 0, 0, 1), (("all",), 0, 1), (["all"], 0, 1), (True, 0, 1), "wish", None, 0,
+             ("wish", (0,), 0, 1),
              ("spot", 0, [0], 1), ("spot", 0, 0, [1])]
 NO_CLUES = NO_TUPLES + NO_SINGLE[1:] + [(value,) for value in NO_SINGLE] + [(GOOD, value) for value in NO_SINGLE] + [
     [], [GOOD], [list(GOOD)], (GOOD,) * 41, ((GOOD,),), GOOD, (GOOD, [GOOD]), (GOOD,) * 500, (("all", 0, 66),) * 41]
@@ -71,7 +72,8 @@ class TestClues(unittest.TestCase):
         row = (0,) * 12
         clues = tuple(("moved", car, car, car) for car in range(12)) + (("all", 66, 66),) + (("wish", 11, 0, 0),) * 27
         self.assertEqual([40, True, False, True],
-                         [len(clues), keeps_clues(row, clues), keeps_clues(row[:11] + (1,), clues), keeps_clues(row, ())])
+                         [len(clues), keeps_clues(row, clues), keeps_clues(row[:11] + (1,), clues),
+                          keeps_clues(row, ())])
 
     def test_one_car(self):
         clues = (("wish", 0, 0, 0), ("spot", 0, 0, 0), ("moved", 0, 0, 0), ("all", 0, 0))
@@ -83,4 +85,5 @@ class TestClues(unittest.TestCase):
         clues = (InvalidClues, NO_CLUES)
         check_wrong(self, [(are_clues, [3, (GOOD,)], [(InvalidCars, out_of(1, 12)), NO_ERROR]),
                            (keeps_clues, [U, (GOOD,)], [(InvalidRow, NO_ROWS), clues]),
-                           (keeps_clues, [(0,), ()], [(InvalidRow, NO_ROWS), (InvalidClues, [(GOOD,), (("wish", 1, 0, 0),)])])])
+                           (keeps_clues, [(0,), ()], [(InvalidRow, NO_ROWS),
+                                                      (InvalidClues, [(GOOD,), (("wish", 1, 0, 0),)])])])

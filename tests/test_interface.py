@@ -94,7 +94,8 @@ INTERFACE = {
 CLASSES = {
     "lifevalues": ("Marked", {"__init__": ["self", "row", "marks"], "__call__": ["self", "corner"],
                               "read": ["cls", "value"]},
-                   "add iadd mul invert xor sub lshift le getitem contains iter len bool str eq", "row marks spots load",
+                   "add iadd mul invert xor sub lshift le getitem contains iter len bool str eq",
+                   "row marks spots load",
                    12),
     "lifebenches": ("Bench", {"__init__": ["self", "state"], "do": ["self", "step"], "undo": ["self"],
                               "redo": ["self"], "attempt": ["self", "action"], "lines": ["self"]},
@@ -125,7 +126,8 @@ class TestInterface(unittest.TestCase):
 
     def test_no_other_modules(self):
         helpers = ["__init__", "checks", "errors"]
-        self.assertEqual(sorted(list(INTERFACE) + list(CLASSES) + helpers), sorted(path.stem for path in FOLDER.glob("*.py")))
+        self.assertEqual(sorted(list(INTERFACE) + list(CLASSES) + helpers),
+                         sorted(path.stem for path in FOLDER.glob("*.py")))
 
     def test_classes(self):
         for module, (name, methods, operators, properties, most) in CLASSES.items():

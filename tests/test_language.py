@@ -224,7 +224,7 @@ def order_faults(tree):
             found.append(f"L5 L7 line {where}")
         elif isinstance(node, ast.ImportFrom) and node.module == "itertools":
             found.append(f"L2 line {where}")
-        elif isinstance(node, ast.Call) and isinstance(node.func, ast.Name) and node.func.id in ("sorted", "min", "max"):
+        elif isinstance(node, ast.Call) and ast.unparse(node.func) in ("sorted", "min", "max"):
             two = node.func.id != "sorted" and len(node.args) == 2
             if not (any if two else all)(is_plain(part) for part in node.args):
                 found.append(f"L5 order line {where}")
@@ -320,19 +320,24 @@ def operator_faults(trees):
 BAD_ORDERS = ["def f(a):\n    return sorted(a)", "def f(a, b):\n    return max(a, b)", "def f(a):\n    a.sort()",
               "def f(a):\n    return min([b for b in a])", "def f(a):\n    return any(b for b in a)",
               "def f(a):\n    a += 1", "from itertools import product", "def f(a):\n    try:\n        return a[0]\n"
-              "    except KeyError:\n        return 1", "def f(a):\n    try:\n        return a\n    finally:\n        f(0)"]
-BAD_CLASSES = ["class A:\n    def __getitem__(self, at):\n        return at", "class A:\n    MOST = 3\n\n    def MOST(self):\n"
+              "    except KeyError:\n        return 1",
+              "def f(a):\n    try:\n        return a\n    finally:\n        f(0)"]
+BAD_CLASSES = ["class A:\n    def __getitem__(self, at):\n        return at",
+               "class A:\n    MOST = 3\n\n    def MOST(self):\n"
                "        return 1", "class A:\n    def f(self):\n        self.f = 1", "class A:\n    def f(self):\n"
                "        self.items = 1", "class A:\n    def __len__(self):\n        return self.many",
                "class A:\n    def decode(self):\n        return 1"]
-BAD_OPERATORS = ["self.many = 3", "other[0] = 1", "other.append(1)", "self.rows.append(1)", "f(other)", "return other(1)"]
+BAD_OPERATORS = ["self.many = 3", "other[0] = 1", "other.append(1)", "self.rows.append(1)", "f(other)",
+                 "return other(1)"]
 
 
 BAD = ["x = 1.5", "def f(a):\n    return a / 2", "def f(a, b):\n    return a ** b", "import sys", "from os import path",
-       "from parkedrows.rows import nothing", "from . import rows", "def f():\n    from math import gcd\n    return gcd",
+       "from parkedrows.rows import nothing", "from . import rows",
+       "def f():\n    from math import gcd\n    return gcd",
        "x = 1\nx = 2", "def f(max):\n    return max", "def f(a):\n    return a is 3", "def f(a):\n    print(a)",
        "def f(a):\n    a.encode('ascii')", "x = '50%'", "def f():\n    pass\n" + "    pass\n" * 40, "x = '\u00e9'",
-       "x = 1\n" * 400, "y = '" + "a" * 120 + "'", "def f():\n\tpass", "class A:\n    def __hash__(self):\n        pass",
+       "x = 1\n" * 400, "y = '" + "a" * 120 + "'", "def f():\n\tpass",
+       "class A:\n    def __hash__(self):\n        pass",
        "def f(a):\n    sorted(a, cmp=3)", "for x in (1, 2):\n    y = x", "x = len([1])", "def f(id):\n    return id",
        "from math import gcd\n\n\ndef f(gcd):\n    return gcd", "def f(a):\n    global x\n    x = a", "f = 1j",
        "def f():\n    return chr(3)", "x = 'enum'", "async def f():\n    pass", "x = '\\x41'", "from math import gcd"]
@@ -367,10 +372,11 @@ class TestLanguage(unittest.TestCase):
             self.assertTrue(order_faults(ast.parse(text)), text)
         for text in BAD_CLASSES:
             self.assertTrue(class_faults(ast.parse(text)), text)
-        good = "def f(a):\n    found = [b for b in a]\n    found.append(1)\n    found[0] = max(0, len(a))\n    return found\n"
+        good = ("def f(a):\n    found = [b for b in a]\n    found.append(1)\n    found[0] = max(0, len(a))\n"
+                "    return found\n")
         for row in BAD_OPERATORS:
-            text = good.replace("found.append(1)", "a[0] = 1") + f"\n\nclass A:\n    def __add__(self, other):\n        {row}\n"
-            self.assertTrue(operator_faults([ast.parse(text)]), row)
+            text = f"class A:\n    def __add__(self, other):\n        {row}\n"
+            self.assertTrue(operator_faults([ast.parse(good.replace("found.append(1)", "a[0] = 1") + text)]), row)
         tree = ast.parse(good + "\n\nclass A:\n    def __add__(self, other):\n        return f(other)\n")
         self.assertEqual([], order_faults(tree) + class_faults(tree) + operator_faults([tree]))
 

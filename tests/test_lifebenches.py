@@ -133,7 +133,8 @@ class TestBenches(unittest.TestCase):
             self.assertRaises(AttributeError, setattr, Bench(V), name, ())
 
     def test_sixty_calls(self):
-        for fill in (lambda bench: bench.do(STAY), lambda bench: add(bench, ()), lambda bench: add(bench, C[3:] + (STAY,))):
+        for fill in (lambda bench: bench.do(STAY), lambda bench: add(bench, ()),
+                     lambda bench: add(bench, C[3:] + (STAY,))):
             bench = Bench(V)
             for _ in range(60):
                 fill(bench)
@@ -233,7 +234,8 @@ class TestBenches(unittest.TestCase):
             self.assertEqual(3, len(given))
             given.attempt(stuck)
 
-        for action, error in ((stuck, Stuck), (broken, Broken), (within, Stuck), (lambda given: given.do(0), InvalidStep),
+        for action, error in ((stuck, Stuck), (broken, Broken), (within, Stuck),
+                              (lambda given: given.do(0), InvalidStep),
                               (lambda given: given[99], InvalidNumber), (lambda given: 1 // 0, ZeroDivisionError),
                               (lambda given: list(given), TypeError), (lambda: 0, TypeError)):
             with self.assertRaises(error):

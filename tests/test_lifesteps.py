@@ -49,7 +49,8 @@ NO_STEPS = NO_TUPLES + [
     ("watch",), ("watch", 12), ("watch", -1), ("watch", 0, 0), ("watch", False), ("mark", 0), ("mark", 12, 0),
     ("mark", 0, 100), ("mark", 0, -1), ("mark", 0, 0, 0), ("mark", True, 0), ("mark", 0, True), (None, 0), (0, 0),
     (("lower",), 0), (("lower", 0),), ("lower", nested(tuple, 0)), "lower", ["over"], ("lower",) * 500, (True,),
-    (["lower"], 0), ("lower", [0])]
+    (["lower"], 0), ("lower", [0]), ("exchange", 12, 0), ("exchange", 0, -1), ("raise", -1), ("leave", -1),
+    ("mark", -1, 0), ("mark", HUGE, 0), ("watch", HUGE), ("watch", "0"), ("come", 0, HUGE), ("swing", -1, 0)]
 NO_SCRIPTS = [value for value in NO_STEPS if value not in ((), (("lower", 0),))] + [
     ("lower", 0), (("lower", 0), ("over", 0)), [("over",)], (("over",),) * 31, (("over",),) * 500, ("over",),
     (["over"],), ((("over",),),), (("over",), None), list(C)]
@@ -109,7 +110,8 @@ class TestLifeSteps(unittest.TestCase):
         row, spot, marks = W, 1, (1, 2, 3, 4)
         told = {("exchange", 0, 3): ("exchange", 0, 3), ("lower", 0): ("raise", 0), ("raise", 1): ("lower", 1),
                 ("come", 4, 9): ("leave", 4), ("swing", 1, 0): ("swing", 1, 3), ("grain", 4, 1000): ("grain", 4, -1000),
-                ("grain", 1, 0): ("grain", 1, 0), ("over",): ("back",), ("back",): ("over",), ("watch", 3): ("watch", 1),
+                ("grain", 1, 0): ("grain", 1, 0), ("over",): ("back",), ("back",): ("over",),
+                ("watch", 3): ("watch", 1),
                 ("watch", 1): ("watch", 1), ("mark", 2, 99): ("mark", 2, 3), ("leave", 0): None}
         for step, back in told.items():
             self.assertEqual(back, step_back((row, spot, marks), step), step)
@@ -118,7 +120,8 @@ class TestLifeSteps(unittest.TestCase):
             self.assertEqual(["sum", W], [word, rows_added(rows_added(W, other), opposite)])
 
     def test_what_cannot_be_done(self):
-        for state, step in ((V, ("lower", 1)), (V, ("raise", 3)), ((U, 0, (1, 2, 3)), ("raise", 2)), (V, ("come", 4, 0)),
+        for state, step in ((V, ("lower", 1)), (V, ("raise", 3)), ((U, 0, (1, 2, 3)), ("raise", 2)),
+                            (V, ("come", 4, 0)),
                             ((U, 0, (1, 2, 3)), ("raise", 1)), (TWELVE, ("come", 0, 0)), (ALONE, ("leave", 0)),
                             (V, ("leave", 0)), ((U, 0, (1, 2, 3)), ("leave", 0)), (V, ("swing", 2, 1)),
                             (V, ("swing", 4, 0)), (V, ("swing", 1, 4)), (V, ("grain", 4, 0)), (V, ("sum", (0, 0))),

@@ -25,8 +25,10 @@ NO_MARKS = NO_TUPLES + [(), (5, 7), (5, 7, 9, 1), (5, 7, 100), (5, -1, 9), (5, 7
 NO_PAIRS = NO_TUPLES + [(), (0,), (0, 0), (2, 2), (0, 3), (3, 0), (-1, 0), (0, -1), (0, True), (True, 0), [0, 2],
                         (0, 1, 2), (0, None), ("0", 1), ((0,), 1), (0, HUGE), (0, (1,))]
 NO_VALUE_TEXTS = NO_TEXTS + [
-    "", "\n", "0", "0\n", "\n0", "0\n0\n", "0\n0\n0", "1 0 0\n5 7", "1 0 0\n5 7 9 1", "1 0 0\r\n5 7 9", "1 0 0\n5 7 100",
-    "1 1 1\n5 7 9", "1 0 0\n5 7 -9", "1 0 0\n05 7 9", "+1 0 0\n5 7 9", "1  0 0\n5 7 9", "1 0 0 \n5 7 9", "1 0 0\n5 7 9 ",
+    "", "\n", "0", "0\n", "\n0", "0\n0\n", "0\n0\n0", "1 0 0\n5 7", "1 0 0\n5 7 9 1", "1 0 0\r\n5 7 9",
+    "1 0 0\n5 7 100",
+    "1 1 1\n5 7 9", "1 0 0\n5 7 -9", "1 0 0\n05 7 9", "+1 0 0\n5 7 9", "1  0 0\n5 7 9", "1 0 0 \n5 7 9",
+    "1 0 0\n5 7 9 ",
     "1 0 0 5 7 9", "1 0 0\n5 7 a", "(1, 0, 0)\n(5, 7, 9)", "1 0 0\n2\n5 7 9", "0 " * 400, "0\n" + "9" * 900]
 
 
@@ -99,7 +101,8 @@ class TestMarked(unittest.TestCase):
             row, cars = marked.row, len(marked)
             neutral = rows_added(row, (~marked).row)
             self.assertEqual(row, rows_added(row, neutral))
-            self.assertEqual([neutral, marked.marks, marked.marks], [(marked * 0).row, (~marked).marks, (marked * 7).marks])
+            self.assertEqual([neutral, marked.marks, marked.marks],
+                             [(marked * 0).row, (~marked).marks, (marked * 7).marks])
             total = neutral
             for times in range(1, cars + 3):
                 total = rows_added(total, row)
@@ -191,7 +194,8 @@ class TestMarked(unittest.TestCase):
     def test_one_car_and_twelve(self):
         one = Marked((0,), (99,))
         self.assertEqual([(0,), (0,), (0,), (0,), (0, 99), False, "0\n99", True],
-                         [(one + one).row, (one * FAR).row, (~one).row, one(1).row, one[0], bool(one), str(one), one <= one])
+                         [(one + one).row, (one * FAR).row, (~one).row, one(1).row, one[0], bool(one), str(one),
+                          one <= one])
         self.assertRaises(Stuck, lambda: one - 0)
         many = Marked((0,) * 11, (0,) * 11) << 11
         self.assertEqual((0,) * 11 + (11,), many.row)

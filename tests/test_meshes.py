@@ -105,14 +105,16 @@ class TestMeshes(unittest.TestCase):
     def test_twelve_corners(self):
         self.assertEqual([ALL, True, 66, []], [full_mesh(12), is_mesh(ALL), mesh_excess(ALL), mesh_bridges(ALL)])
         down, up = tuple(range(12)), tuple(range(2, 13)) + (0,)
-        self.assertEqual([tuple((at, at + 1) for at in range(12)), ((0, 12),) + tuple((at, at + 1) for at in range(1, 12))],
+        self.assertEqual([tuple((at, at + 1) for at in range(12)),
+                          ((0, 12),) + tuple((at, at + 1) for at in range(1, 12))],
                          [tree_mesh(down), tree_mesh(up)])
         self.assertEqual([ALL, ALL[1:]], [mesh_with(ALL[:40] + ALL[41:], ALL[40]), mesh_without(ALL, ALL[0])])
         self.assertEqual(list(tree_mesh(down)), mesh_bridges(tree_mesh(down)))
 
     def test_one_corner(self):
         self.assertEqual([ONE, ONE, 0, [(0, 1)], [ONE], True],
-                         [tree_mesh((0,)), full_mesh(1), mesh_excess(ONE), mesh_bridges(ONE), all_meshes(1), is_mesh(ONE)])
+                         [tree_mesh((0,)), full_mesh(1), mesh_excess(ONE), mesh_bridges(ONE), all_meshes(1),
+                          is_mesh(ONE)])
 
     def test_any_value(self):
         for value in NO_MESHES:

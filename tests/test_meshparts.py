@@ -137,7 +137,8 @@ class TestMeshParts(unittest.TestCase):
                                 (mesh_number, [N, search], [ALL, search], 4),
                                 (mesh_with_number, [4, search, 0], [5, search, HUGE], 4),
                                 (mesh_with_number, [4, search, 727], [12, search, 0], 4),
-                                (outer_spread, [4, search], [5, search], 4), (outer_spread, [1, search], [12, search], 4)])
+                                (outer_spread, [4, search], [5, search], 4),
+                                (outer_spread, [1, search], [12, search], 4)])
 
     def test_eight_outer_ties(self):
         row = (0, 1, 2, 3, 4, 5, 6, 7, 0, 9, 10, 11)
@@ -153,7 +154,10 @@ class TestMeshParts(unittest.TestCase):
         tree, mesh, search = (InvalidTree, NO_TREES), (InvalidMesh, NO_MESHES), (InvalidSearch, NO_SEARCHES)
         ties, number = (InvalidTies, NO_OUTER), (InvalidNumber, out_of(1, 12))
         check_wrong(self, [(mesh_of, [S, "queue", ((2, 3),)], [tree, search, ties]),
-                           (mesh_of, [T, "deep", ()], [tree, search, (InvalidTies, [((1, 3),), ((0, 1), (0, 1))])]),
+                           (mesh_of, [T, "deep", ()],
+                            [tree, search, (InvalidTies, [((1, 3),), ((0, 1),) * 2, ((False, 1),), ((0, True),)])]),
+                           (mesh_of, [S, "stack", ((1, 3), (2, 3))],
+                            [tree, search, (InvalidTies, [((True, 3), (2, 3)), ((2, 3), (1, 3)), ((1, 3),) * 2])]),
                            (parts_of, [M, "rings"], [mesh, search]), (meshes_by, [S, "rings"], [tree, search]),
                            (carried, [N, "queue", "stack"], [mesh, (InvalidSearch, NO_LINES + ["deep"])] +
                             [(InvalidSearch, NO_LINES + ["deep"])]),

@@ -33,14 +33,17 @@ NO_PAPERS = NO_TUPLES + [
     ("wish", True, ((0, ("wish", 0, ((0, ZERO), (1, OTHER)))), (1, ONE))), ("wish", False, PAPER[2]),
     ("Wish", 0, PAPER[2]), ("moved", 0, PAPER[2]), ("all", 0, PAPER[2]), (None, 0, PAPER[2]), ("wish", 0),
     ("wish", 0, PAPER[2], 0), ("wish", "0", PAPER[2]), ("wish", HUGE, PAPER[2]), ("wish", 0, None),
-    ("wish", 0, ((0, ("wish", 1, ((0, ZERO), (1, ONE), (1, ONE)))), (1, OTHER))), ("wish", 0, ((0, INNER), (True, OTHER))),
+    ("wish", 0, ((0, ("wish", 1, ((0, ZERO), (1, ONE), (1, ONE)))), (1, OTHER))),
+    ("wish", 0, ((0, INNER), (True, OTHER))),
     ("wish", 0, ((False, INNER), (1, OTHER))), ("wish", 0, ((0, INNER), (1, ("row", (True, 0))))),
     ("wish", 0, ((0, INNER), (1, ("row", [1, 0])))), ("wish", 0, ((0, INNER), (1, ["row", (1, 0)]))),
     ("wish", 0, ((0, INNER), (1, ("row", (0, 1))))), ("wish", 0, ((0, INNER), (1, ("row", (1, 0), 0)))),
-    ("wish", 0, ((0, INNER), (1, ("row",)))), ("wish", 0, ((0, INNER), (1, NONE))), ("wish", 0, ((0, INNER), (1, None))),
+    ("wish", 0, ((0, INNER), (1, ("row",)))), ("wish", 0, ((0, INNER), (1, NONE))),
+    ("wish", 0, ((0, INNER), (1, None))),
     ("wish", 0, ((0, INNER), (1, ("wish", 1, ((0, OTHER),))))), ("wish", 0, ((0, INNER), (1, OTHER), (2, NONE))),
     ("wish", 0, ((0, INNER, 0), (1, OTHER))), ("wish", 0, ((0,), (1, OTHER))), ("wish", 0, (0, 1)), ("wish",) * 3,
     ("wish", 0, nested(tuple, 0)), nested(tuple, PAPER), (PAPER,), ("wish", (0,), PAPER[2]), ("spot", 0, PAPER[2][:1]),
+    ("wish", -1, ((0, OTHER), (1, INNER))), ("spot", 2, PAPER[2]), ("spot", -1, ((0, OTHER), (1, INNER))),
     ("wish", 0, ((0, INNER), (HUGE, OTHER))), ("wish", 0, ((0, INNER), (1, OTHER)) * 250), ("wish", 0, "01")]
 
 
@@ -129,6 +132,16 @@ class TestRowPapers(unittest.TestCase):
         self.assertEqual([0, None, ZERO, True, False, False],
                          [row_questions(2, TWO), next_question(2, TWO), row_paper(2, TWO),
                           is_row_paper(2, TWO, ZERO), is_row_paper(2, TWO, NONE), is_row_paper(2, TWO, OTHER)])
+        for value in NO_PAPERS + [PAPER]:
+            self.assertIs(value == NONE, is_row_paper(2, never, value), value)
+            self.assertIs(value == ZERO, is_row_paper(2, TWO, value), value)
+        for value in ((), ("none", 0), ["none"], ("None",), (None,), ("none", "none"), ("row",), "none", (("none",),)):
+            self.assertIs(False, is_row_paper(2, never, value), value)
+        for value in (("raw", (0, 0)), ("none", (0, 0)), ("wish", (0, 0)), ["row", (0, 0)], ("row", [0, 0]),
+                      ("row", (0, False)),
+                      ("row", (0, 0), ()), ("row", (0,)), ("row", (0, 0, 0)), ("row", None), (None, (0, 0)),
+                      ("row", ZERO)):
+            self.assertIs(False, is_row_paper(2, TWO, value), value)
         self.assertEqual([("row", (0,)), 0, True], [row_paper(1, ()), row_questions(1, ()),
                                                     is_row_paper(1, (), ("row", (0,)))])
 
@@ -169,7 +182,8 @@ class TestRowPapers(unittest.TestCase):
         self.assertEqual([16, 17, 16, 17], [count_clued(4, SIXTEEN), count_clued(4, SEVENTEEN), count_clued(6, SIX),
                                             count_clued(6, SEVEN_AND_TEN)])
         for inside, beyond, limit in (([6, SEVEN], [7, SEVEN], 6), ([6, SEVEN], [12, ()], 6), ([3, ()], [4, ()], 16),
-                                      ([4, SIXTEEN], [4, SEVENTEEN], 16), ([6, SIX], [6, SEVEN_AND_TEN], 16), ([6, SEVEN], [6, ()], 16)):
+                                      ([4, SIXTEEN], [4, SEVENTEEN], 16), ([6, SIX], [6, SEVEN_AND_TEN], 16),
+                                      ([6, SEVEN], [6, ()], 16)):
             check_limits(self, [(function, inside, beyond, limit) for function in functions] +
                          [(is_row_paper, inside + [None], beyond + [NONE], limit)])
 
