@@ -6,6 +6,8 @@ import importlib
 import itertools
 
 from parkedrows import errors
+from parkedrows.lifebenches import Bench
+from parkedrows.lifevalues import Marked
 
 P, U, L = (1, 0, 0), (0, 1, 2), (0, 0, 0)
 W = (2, 0, 0, 1)
@@ -24,14 +26,16 @@ def nested(kind, inner):
 
 # What is no integer at all.
 NO_INTEGERS = [None, True, False, "", "0", "1", "a", [], [0], (), (0,), (1,), nested(list, 0), nested(tuple, 0),
-               (0,) * 500, [0] * 500, "u" * 1000, errors.InvalidRow("x"), errors.TooMany(3)]
+               (0,) * 500, [0] * 500, "u" * 1000, errors.InvalidRow("x"), errors.TooMany(3), Marked((0,), (0,)),
+               Bench(((0,), 0, (0,)))]
 
 # What is no row, ring row, tree, code, path, load, tuple of labels or of corners; () is told by each test itself.
 NO_TUPLES = [None, True, False, 0, 1, 3, -1, HUGE, -HUGE, "", "0", "ur", "(0,)", "\n", [], [0], [0, 0, 0], [1, 0, 0],
              [[0]], [(0,)], nested(list, 0), nested(tuple, 0), (None,), ("0",), ("",), ((),), ((0,),), ([0],),
              (True,), (False,), (0, False), (True, 0), (0, True), (False, 0, 0), (0, 0, None), (0, "0", 0), (0, (0,)),
              (-1,), (0, -1), (HUGE,), (0, HUGE), (0, 0, -HUGE), (0,) * 500, tuple(range(500)), ("0",) * 500,
-             [0] * 500, ((0,),) * 500, errors.InvalidRow("x"), errors.TooMany(3), (errors.TooMany(3),)]
+             [0] * 500, ((0,),) * 500, errors.InvalidRow("x"), errors.TooMany(3), (errors.TooMany(3),),
+             Marked((0,), (0,)), (Marked((0,), (0,)),), (0, Bench(((0,), 0, (0,))))]
 
 
 # For check_wrong: any value may stand there.
